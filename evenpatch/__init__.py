@@ -1,0 +1,1 @@
+"""Evenpatch: protocols in the open, upgraded amid sessions."""

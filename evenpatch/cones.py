@@ -1,0 +1,80 @@
+"""Mixtures of any number of lots: what the arguments are is not asked here."""
+
+from evenpatch.ratios import Ratio
+from evenpatch.rows import shortened
+from evenpatch.simplex import Tableau, weighed
+
+
+def corners_of(lots):
+    """The corners of the polygon of some lots, ascending."""
+    left = sorted(set(lots))
+    for lot in list(left):
+        others = [other for other in left if other != lot]
+        # A lot that is mixed of the others is needed by none of them, so it is not asked for any further.
+        if mixing(others, lot)[0] is not None:
+            left = others
+    return left
+
+
+def mixing(lots, lot):
+    """A tuple (shares, None) of shares by which lots mix to a lot, or (None, payoff) if there are none."""
+    weights, scale, payoff = weighed(lots, lot)
+    if weights is None:
+        return None, payoff
+    return shares_by(weights, lots, scale * sum(lot)), None
+
+
+def meeting(lots, others):
+    """A tuple (shares, shares, None) by which lots and others mix to one lot, or (None, None, payoff)."""
+    columns = [[*lot, sum(lot)] for lot in lots]
+    for other in others:
+        columns.append([-item for item in other] + [0])
+    weights, scale, payoff = weighed(columns, [0] * len(lots[0]) + [1])
+    if weights is None:
+        return None, None, shortened([-item for item in payoff[:-1]])
+    many = len(lots)
+    return shares_by(weights[:many], lots, scale), shares_by(weights[many:], others, scale), None
+
+
+def gap(lots, others):
+    """The tuple (number, shares, shares, payoff) of the distance of lots and others."""
+    many = len(lots[0])
+    columns = [[*lot, sum(lot), 0] for lot in lots]
+    for other in others:
+        columns.append([-item for item in other] + [0, sum(other)])
+    costs = [0] * len(columns)
+    for at in range(many):
+        unit = [int(at == other) for other in range(many + 2)]
+        columns.append([-item for item in unit])
+        columns.append(unit)
+        costs.extend([1, 0])
+    table = begun(columns, costs, many, len(lots), len(others))
+    table.run(columns, costs)
+    weights = table.weights(len(lots) + len(others))
+    shares = shares_by(weights[:len(lots)], lots, table.scale)
+    other_shares = shares_by(weights[len(lots):], others, table.scale)
+    row = table.rows[0]
+    if row[-1] == 0:
+        return Ratio(0), shares, other_shares, [1] * many
+    return Ratio(-row[-1], table.scale), shares, other_shares, shortened(row[:many])
+
+
+def begun(columns, costs, many, first, second):
+    """The tableau of a distance, begun at the first one of the lots and the first one of the others."""
+    table = Tableau([0] * many + [1, 1], 0)
+    put(table, many + 1, 0, columns, costs)
+    put(table, many + 2, first, columns, costs)
+    for at in range(many):
+        if table.rows[at + 1][-1] < 0:
+            put(table, at + 1, first + second + 2 * at, columns, costs)
+    return table
+
+
+def put(table, at, name, columns, costs):
+    """Lets the column of this number take a row of the tableau."""
+    table.enter(at, name, table.direction(columns[name], costs[name]))
+
+
+def shares_by(weights, lots, whole):
+    """The shares that belong to weights of the integers of lots."""
+    return [Ratio(weight * sum(lot), whole) for weight, lot in zip(weights, lots)]
