@@ -59,8 +59,6 @@ class Ratio:
     def over(self, number):
         """The Ratio divided by a number other than 0."""
         ratio = as_ratio(number)
-        if ratio.top == 0:
-            raise ByZero()
         return Ratio(self.top * ratio.bottom, self.bottom * ratio.top)
 
     def below(self, number):
@@ -73,8 +71,6 @@ def as_ratio(value):
     """The Ratio that equals a number."""
     if isinstance(value, Ratio):
         return value
-    if not is_whole(value):
-        raise InvalidNumber(value)
     return Ratio(value)
 
 

@@ -9,8 +9,8 @@ def nearest_shares(lots, lot):
 
     An arrow leads from the lot of the argument to one of the lots: integers, to be divided by a size. The arrows of a
     *corral* are so few that just one mixture of them, with weights below 0 too, is nearest; all weights of a corral are
-    above 0 there. Each round adds the arrow that lies farthest back and drops those that then lose their weight, so that
-    the nearest point of the corral comes nearer each time and no corral comes again.
+    above 0 there. Each round adds the arrow that lies farthest back and drops those that then lose their weight, so
+    that the nearest point of the corral comes nearer each time and no corral comes again.
     """
     whole = sum(lot)
     sizes = [sum(one) * whole for one in lots]

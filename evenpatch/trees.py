@@ -60,7 +60,7 @@ def count_in_body(value, parties, whiles, most):
 
 
 def count_in_statement(value, parties, whiles, most):
-    """How many statements stand in the bodies of any value, -1 if it is no statement, or if there are more than most."""
+    """How many statements the bodies of any value have, -1 if it is no statement, or if these are more than most."""
     if not isinstance(value, tuple) or len(value) < 2:
         return -1
     inner_whiles = whiles

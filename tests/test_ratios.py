@@ -36,6 +36,8 @@ class Ratios(Case):
         self.assertTrue(Ratio(4, 2) == 2)
         self.assertTrue(2 == Ratio(4, 2))
         self.assertFalse(Ratio(1, 2) == 0)
+        self.assertFalse(Ratio(3, 2) == 3)
+        self.assertFalse(3 == Ratio(3, 2))
         self.assertTrue(Ratio(1, 2) != Ratio(1, 3))
         self.assertFalse(Ratio(2) != 2)
         for value in no_numbers():
