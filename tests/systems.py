@@ -34,6 +34,8 @@ class Maker:
         self.left = left
         self.fair = fair
         self.words = [name for name, size in names] if fair else WORDS
+        self.whiles = 3
+        self.deepest = 6
 
     def pairs(self, size):
         top = size - 1 if self.fair else 5
@@ -60,9 +62,9 @@ class Maker:
         if not self.fair:
             name = rng.choice(WORDS)
         kinds = ["set", "draw", "spin", "choose", "if", "choose", "if"]
-        kinds += ["while"] * (whiles < 3) * 2 + ["call"] * (len(self.units) > 0)
+        kinds += ["while"] * (whiles < self.whiles) * 2 + ["call"] * (len(self.units) > 0)
         kind = rng.choice(kinds)
-        depth = rng.randint(1, 6)
+        depth = rng.randint(1, self.deepest)
         if kind == "set":
             return kind, name, some_expression(rng, depth, self.words)
         if kind == "draw":

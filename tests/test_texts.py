@@ -3,8 +3,9 @@ import unittest
 
 from evenpatch.errors import InvalidSystem, InvalidText, NoSystem
 from evenpatch.texts import is_tree, read_system, write_system
+from evenpatch.writer import system_lines
 from helpers import Case, strange
-from systems import some_system
+from systems import Maker, some_system
 from viable import pieces_of, place_of
 
 HEAD = "parties 2 name x 3 unit game { "
@@ -176,6 +177,22 @@ class Reading(Case):
             end = pieces_of(changed)[1:]
             kinds["text" if place is None else "end" if place == end else "piece"] += 1
         self.assertGreater(min(kinds.values()), 10, kinds)
+
+    def test_bounds_that_are_broken(self):
+        rng = random.Random(54)
+        broken = 0
+        for _ in range(300):
+            units = []
+            for word in ("u", "v", "w"):
+                maker = Maker(rng, rng.randint(2, 3), (("x", 2),), ["u"], rng.choice([2, 19, 23, 30]), False)
+                maker.whiles = rng.choice([3, 3, 5])
+                maker.deepest = rng.choice([4, 6, 7, 8])
+                units.append((word, maker.body(0, 0)))
+            system = (rng.randint(2, 3), (("x", 2),), tuple(units))
+            place = self.check("\n".join(system_lines(system)))
+            self.assertEqual(place is None, is_tree(system))
+            broken += place is not None
+        self.assertTrue(100 < broken < 280, broken)
 
     def test_pieces_at_random(self):
         rng = random.Random(52)

@@ -4,7 +4,7 @@ import unittest
 from evenpatch.ratios import Ratio
 from evenpatch.texts import is_tree
 from helpers import Case, deep, strange
-from systems import count, some_system
+from systems import Maker, count, some_system
 
 SET = ("set", "x", ("num", 0))
 YES = ("yes",)
@@ -91,7 +91,9 @@ class Trees(Case):
                 (("draw", "x", ((0, Ratio(1)), (1, 1))), False), (("draw", 1, "x", pairs), False),
                 (("spin", 1, "x", pairs), True), (("spin", 2, "x", pairs), True), (("spin", 3, "x", pairs), False),
                 (("spin", 0, "x", pairs), False), (("spin", True, "x", pairs), False), (("spin", "x", pairs), False),
-                (("spin", 1, "x", ()), False), (("call", "u"), True), (("call", "x"), True), (("call", "call"), False),
+                (("spin", 1, "x", ()), False), (("draw", "x", pairs, ()), False), (("spin", 1, "x", pairs, ()), False),
+                (("spin", 1, "X", pairs), False), (("spin", 1, None, pairs), False), (("call", "u"), True),
+                (("call", "x"), True), (("call", "call"), False),
                 (("call",), False), (("call", "u", "v"), False), (("call", None), False), (("halt", "x"), False),
                 ((), False), ("set", False), (None, False), ((("set",), "x", ("num", 0)), False)):
             self.assertIs(is_tree(one(statement)), told, statement)
@@ -117,14 +119,18 @@ class Trees(Case):
                            (("num", True), False), (("num", Ratio(3)), False), (("name", "q"), True),
                            (("name", "yes"), False), (("num",), False), (("name", "x", "y"), False), (["num", 1], False),
                            (("/", ("num", 1), ("num", 1)), False), (("+", ("num", 1)), False), (YES, False),
-                           (("-", ("num", 1), ("name", "x")), True), (("*", ("num", 1), YES), False)):
+                           (("-", ("num", 1), ("name", "x")), True), (("*", ("num", 1), YES), False),
+                           (("*", YES, ("num", 1)), False), (("-", ("num", 100), ("num", 1)), False),
+                           (("word", "x"), False), (("n", 1), False)):
             self.assertIs(is_tree(one(("set", "x", tree))), told, tree)
         num = ("num", 1)
         for tree, told in ((YES, True), (("less", num, num), True), (("same", num, num), True), (("not", YES), True),
                            (("and", YES, YES), True), (("or", YES, ("not", YES)), True), (("yes", YES), False),
                            (("not", num), False), (("less", YES, YES), False), (("and", YES, num), False),
                            (("same", num), False), (["yes"], False), ((), False), (("not", YES, YES), False),
-                           (("more", num, num), False), (num, False)):
+                           (("more", num, num), False), (num, False), (("and", num, YES), False), (("or", num, YES), False),
+                           (("less", YES, num), False), (("same", num, YES), False), (("or", YES, num), False),
+                           (("xor", YES, YES), False)):
             self.assertIs(is_tree(one(("while", tree, ()))), told, tree)
             self.assertIs(is_tree(one(("if", tree, (), ()))), told, tree)
 
@@ -149,6 +155,18 @@ class Trees(Case):
         self.assertIs(is_tree(one(("while", YES, (SET,) * 19))), True)
         self.assertIs(is_tree(one(("while", YES, (SET,) * 20))), False)
         self.assertIs(is_tree(system((("while", YES, (SET,) * 19), SET))), False)
+        self.assertIs(is_tree(system((SET, ("while", YES, (SET,) * 19)))), False)
+        self.assertIs(is_tree(system((SET, ("while", YES, (SET,) * 18)))), True)
+
+    def test_numbers_of_statements_of_any_shape(self):
+        rng = random.Random(42)
+        told = {True: 0, False: 0}
+        while min(told.values()) < 100:
+            bodies = [Maker(rng, 2, (("x", 2),), ["u"], rng.randint(15, 25), False).body(0, 0) for _ in range(3)]
+            sizes = [count(body) for body in bodies]
+            answer = max(sizes) <= 20 and sum(sizes) <= 40
+            self.assertIs(is_tree(system(*bodies)), answer)
+            told[answer] += 1
 
     def test_whiles(self):
         for many in range(5):
