@@ -33,3 +33,8 @@ def words_within(tree):
     for inner in tree[1:]:
         found.extend(words_within(inner))
     return found
+
+
+def count_of(body):
+    """How many statements a body has, those in its statements too."""
+    return len(walked(body, ()))

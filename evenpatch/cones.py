@@ -1,19 +1,53 @@
 """Mixtures of any number of lots: what the arguments are is not asked here."""
 
 from evenpatch.ratios import Ratio
-from evenpatch.rows import shortened
+from evenpatch.rows import product_of, shortened
 from evenpatch.simplex import Tableau, weighed
 
 
 def corners_of(lots):
-    """The corners of the polygon of some lots, ascending."""
+    """The corners of the polygon of some lots, ascending.
+
+    Each lot is either mixed of corners that are known, or parted from them by a payoff; the lot that lies farthest in
+    the direction of this payoff is then a corner, too.
+    """
     left = sorted(set(lots))
-    for lot in list(left):
-        others = [other for other in left if other != lot]
-        # A lot that is mixed of the others is needed by none of them, so it is not asked for any further.
-        if mixing(others, lot)[0] is not None:
-            left = others
-    return left
+    if len(left) < 3:
+        return left
+    payoff = [0] * len(left[0])
+    found = []
+    while left:
+        if payoff is None:
+            left.pop()
+        else:
+            corner = farthest(left, payoff)
+            found.append(corner)
+            left = [lot for lot in left if lot != corner]
+        if left:
+            payoff = mixing(found, left[-1])[1]
+    return sorted(found)
+
+
+def farthest(lots, payoff):
+    """The corner of the polygon of some lots that has the greatest mean of a payoff, and then the greatest shares."""
+    best = lots[0]
+    for lot in lots[1:]:
+        if is_farther(lot, best, payoff):
+            best = lot
+    return best
+
+
+def is_farther(lot, other, payoff):
+    """Whether a lot has a greater mean of a payoff than another one, or the same one and then greater shares."""
+    whole = sum(lot)
+    other_whole = sum(other)
+    ahead = product_of(lot, payoff) * other_whole - product_of(other, payoff) * whole
+    if ahead != 0:
+        return ahead > 0
+    for part, other_part in zip(lot, other):
+        if part * other_whole != other_part * whole:
+            return part * other_whole > other_part * whole
+    return False
 
 
 def mixing(lots, lot):
@@ -78,3 +112,13 @@ def put(table, at, name, columns, costs):
 def shares_by(weights, lots, whole):
     """The shares that belong to weights of the integers of lots."""
     return [Ratio(weight * sum(lot), whole) for weight, lot in zip(weights, lots)]
+
+
+def is_mixed(lots, lot):
+    """Whether lots mix to a lot; shares that are too great or too small for all lots tell it at once."""
+    whole = sum(lot)
+    for at, part in enumerate(lot):
+        ahead = [part * sum(one) - one[at] * whole for one in lots]
+        if min(ahead) > 0 or max(ahead) < 0:
+            return False
+    return mixing(lots, lot)[0] is not None

@@ -26,7 +26,7 @@ def asked_and_shown(lines):
 
 class Examples(unittest.TestCase):
     def test_there_are_blocks(self):
-        self.assertGreaterEqual(len(blocks()), 4)
+        self.assertGreaterEqual(len(blocks()), 12)
 
     def test_each_block(self):
         for number, lines in enumerate(blocks()):

@@ -18,8 +18,10 @@ isupper items join keys ljust lower lstrip partition pop remove replace reverse 
 setdefault split splitlines startswith strip update upper values zfill bit_length""".split())
 DOUBLE = set("""__init__ __eq__ __str__ __len__ __contains__ __add__ __radd__ __sub__ __rsub__ __mul__ __rmul__
 __neg__""".split())
-BARRED_NODES = (ast.AsyncFunctionDef, ast.Await, ast.Global, ast.GeneratorExp, ast.Div, ast.Pow, ast.Try, ast.With,
+BARRED_NODES = (ast.AsyncFunctionDef, ast.Await, ast.Global, ast.GeneratorExp, ast.Div, ast.With,
                 ast.Match, ast.Set, ast.Lambda, ast.Yield, ast.YieldFrom, ast.AnnAssign, ast.NamedExpr, ast.Assert)
+BARRED_ATTRIBUTES = METHODS - set("count index title find get join lower upper split strip copy".split()) | {"args", "sort"}
+TAKEN = {"_cold", "_tuplegetter", "_outside", "_record", "_written_out", "_member_names"}
 BARRED_WORDS = re.compile(r"\b(register|mro|elements|open|input|law|type|typing|enum|Protocol|Generic|id|vars|eval)\b")
 
 
@@ -115,6 +117,11 @@ class Language(unittest.TestCase):
         for file, tree in self.each():
             for node in ast.walk(tree):
                 self.assertNotIsInstance(node, BARRED_NODES, f"{file.name}:{getattr(node, 'lineno', '')}")
+                if isinstance(node, ast.BinOp) and isinstance(node.op, ast.Pow):
+                    self.assertIn(node.right.value, range(65))
+                if isinstance(node, ast.Try):
+                    self.assertEqual([handler.type.id for handler in node.handlers], ["PactError"])
+                    self.assertEqual(node.orelse + node.finalbody, [])
                 if isinstance(node, ast.AugAssign):
                     self.assertIsInstance(node.target, ast.Name)
                     self.assertIsInstance(node.value, ast.Constant)
@@ -138,6 +145,18 @@ class Language(unittest.TestCase):
                     self.assertIn(node.id, USED)
             bare = re.sub(r'"""[\s\S]*?"""|#.*', "", text)
             self.assertIsNone(BARRED_WORDS.search(bare))
+
+    def test_names_of_methods_and_attributes_differ(self):
+        methods, attributes = set(), set()
+        for file, tree in self.each():
+            for node in ast.walk(tree):
+                if isinstance(node, ast.ClassDef):
+                    methods |= {item.name for item in node.body if isinstance(item, ast.FunctionDef)}
+                if isinstance(node, ast.Attribute) and isinstance(node.ctx, ast.Store):
+                    attributes.add(node.attr)
+        self.assertEqual(methods & attributes, set())
+        self.assertEqual(attributes & BARRED_ATTRIBUTES, set())
+        self.assertEqual((methods | attributes) & TAKEN, set())
 
     def test_methods_that_are_called(self):
         own = {item.name for file in sources() for item in ast.walk(tree_of(file)) if isinstance(item, ast.FunctionDef)}
