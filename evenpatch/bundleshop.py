@@ -4,7 +4,7 @@ from evenpatch.courses import Course
 from evenpatch.editions import doors_of
 from evenpatch.rivals import Rivals
 from evenpatch.webs import Web
-from evenpatch.workshop import calls_in, poor_family, whole_family
+from evenpatch.workshop import Kin, calls_in
 
 
 class BundleShop:
@@ -32,8 +32,7 @@ class BundleShop:
             return self.shop.families_of(unit, side, view)
         key = (unit, side, view)
         if key not in self._own:
-            web = self.web_of(unit, side, view)
-            self._own[key] = [poor_family(web, unit, store) for store in self.shop.space.stores()]
+            self._own[key] = Kin(self.web_of(unit, side, view), unit).poor()
         return self._own[key]
 
     def web_of(self, unit, side, view):
@@ -48,8 +47,8 @@ class BundleShop:
         found = []
         for door in self.doors:
             offers = self.shop.sets_of(door, side, "S")
-            web = self.web_of(door, side, "T")
-            found.append((door, Rivals(offers, [whole_family(web, door, store) for store in self.shop.space.stores()])))
+            counters = Kin(self.web_of(door, side, "T"), door).all_families()
+            found.append((door, Rivals(offers, counters)))
         return found
 
 

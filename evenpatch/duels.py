@@ -124,7 +124,7 @@ class Duel:
         return True
 
     def _is_endless(self, rows, sign):
-        """Whether those without these rows can stay where more than never is brought, less for a sign below 0, for ever.
+        """Whether those without these rows can stay for ever where more than never is brought, less for a sign below 0.
 
         They take moves that change nothing of what is brought, while at these rows the picks are taken.
         """

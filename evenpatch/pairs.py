@@ -35,10 +35,11 @@ def gap_of(lots, others):
 
 def near_places(lots, others, number):
     """The indices of two lots, one of each set, whose distance is not above a number, if a quick look finds them."""
-    at, other_at = equal_places(lots, others)
-    if at is not None:
-        return at, other_at
-    if len(lots) * len(others) <= FEW_PAIRS:
+    if len(lots) * len(others) > FEW_PAIRS:
+        at, other_at = equal_places(lots, others)
+        if at is not None and number.top >= 0:
+            return at, other_at
+    else:
         for at, lot in enumerate(lots):
             for other_at, other in enumerate(others):
                 if not number.below(apart(lot, other)):
@@ -69,6 +70,8 @@ def differences(lot, other):
 
 def equal_places(lots, others):
     """The indices of a lot that stands in both sets, or two None."""
+    if len(lots) == 1 and len(others) == 1:
+        return (0, 0) if lots[0] == others[0] else (None, None)
     places = {other: at for at, other in enumerate(others)}
     for at, lot in enumerate(lots):
         if lot in places:

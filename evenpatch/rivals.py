@@ -55,12 +55,12 @@ class Rivals:
 
     def farthest(self, store):
         """The tuple (number, plan, answer, payoff) of a set and a counter with the greatest distance."""
-        best = None
+        best = (Ratio(-1), (), (), [])
         for (lots, plan), (others, answer) in self.pairs(store):
             # Two lots that are near show at once that their sets are not farther apart.
-            if best is None or near_places(lots, others, best[0])[0] is None:
+            if near_places(lots, others, best[0])[0] is None:
                 number, _, _, payoff = gap_of(lots, others)
-                if best is None or best[0].below(number):
+                if best[0].below(number):
                     best = (number, plan, answer, payoff)
         return best
 

@@ -19,7 +19,7 @@ class Workshop:
         self.units = [unit for unit, body in system[2]]
         self.bodies = dict(system[2])
         self._courses = {}
-        self._families = {}
+        self._kin = {}
         self._called = {}
 
     def course_of(self, unit):
@@ -51,31 +51,24 @@ class Workshop:
         """
         key = (unit, side, view)
         if key not in self._called:
-            web = self.web_over(self.course_of(unit), self.bodies[unit], side, view)
-            self._called[key] = [self._called_family(web, unit, store) for store in self.space.stores()]
+            self._called[key] = self._kin_of(unit, side, view).poor()
         return self._called[key]
-
-    def _called_family(self, web, unit, store):
-        sets = [lots for lots, plan in self._family_at(web, unit, store)]
-        need_poor(sets, unit, store, web.side)
-        return sets
-
-    def _family_at(self, web, unit, store):
-        """The family of a published unit from a store, worked out once."""
-        key = (unit, web.side, web.view, store)
-        if key not in self._families:
-            self._families[key] = whole_family(web, unit, store)
-        return self._families[key]
 
     def sets_of(self, unit, side, view):
         """For each store the family of a published unit, however rich, as tuples (set, plan)."""
-        web = self.web_of(unit, side, view)
-        return [self._family_at(web, unit, store) for store in self.space.stores()]
+        self.need(calls_in(self.bodies[unit]), side, view)
+        return self._kin_of(unit, side, view).all_families()
 
     def sets_for(self, unit, body, side, view):
         """For each store the family of another body of a unit over the published units, as tuples (set, plan)."""
-        web = self.web_by(body, side, view)
-        return [whole_family(web, unit, store) for store in self.space.stores()]
+        return Kin(self.web_by(body, side, view), unit).all_families()
+
+    def _kin_of(self, unit, side, view):
+        """The Kin of a published unit, made once."""
+        key = (unit, side, view)
+        if key not in self._kin:
+            self._kin[key] = Kin(self.web_over(self.course_of(unit), self.bodies[unit], side, view), unit)
+        return self._kin[key]
 
     def web_over(self, course, body, side, view):
         """The web of a body over the families of the units that it calls."""
@@ -96,6 +89,35 @@ class Workshop:
         return self.web_over(course, body, side, view)
 
 
+class Kin:
+    """The families of a unit over a web, each worked out once for all stores from which a way leads to one place."""
+
+    def __init__(self, web, unit):
+        self._web = web
+        self._unit = unit
+        self._found = {}
+
+    def family(self, store):
+        """The family from a store, a list of tuples (set, plan), ascending."""
+        place = self._web.first(store)
+        if place not in self._found:
+            self._found[place] = family_among(Prospect(self._web, place).sets(self._unit, store))
+        return self._found[place]
+
+    def all_families(self):
+        """For each store the family from it."""
+        return [self.family(store) for store in range(self._web.never)]
+
+    def poor(self):
+        """For each store the sets of the family from it, if they are not too rich for a unit that is called."""
+        found = []
+        for store in range(self._web.never):
+            sets = [lots for lots, plan in self.family(store)]
+            need_poor(sets, self._unit, store, self._web.side)
+            found.append(sets)
+        return found
+
+
 def calls_in(body):
     """The names of the units that are called in a body, each once."""
     found = {}
@@ -103,18 +125,6 @@ def calls_in(body):
         if statement[0] == "call":
             found[statement[1]] = True
     return list(found)
-
-
-def whole_family(web, unit, store):
-    """The family from a store, a list of tuples (set, plan), ascending; the unit is for errors."""
-    return family_among(Prospect(web, web.first(store)).sets(unit, store))
-
-
-def poor_family(web, unit, store):
-    """The sets of the family from a store, if they are not too rich for a unit that is called."""
-    sets = [lots for lots, plan in whole_family(web, unit, store)]
-    need_poor(sets, unit, store, web.side)
-    return sets
 
 
 def need_poor(sets, unit, store, side):
@@ -148,7 +158,7 @@ def has_within(lots, others):
 
 
 def all_within(lots, known, other):
-    """Whether all lots of another set are known to lie in the polygon of some lots; what is found is kept in `known`."""
+    """Whether all lots of another set lie in the polygon of some lots; what is found of lots is kept in `known`."""
     for lot in other:
         if lot not in known:
             known[lot] = is_mixed(lots, lot)
