@@ -34,29 +34,29 @@ class Compiler:
     def __init__(self, body):
         self.rows = []
         self.numbers = []
-        self._lay_body(body, ())
+        self._write_body(body, ())
         self.rows.append(("back",))
 
-    def _lay_body(self, body, ahead):
+    def _write_body(self, body, ahead):
         for at, statement in enumerate(body):
-            self._lay(statement, (*ahead, at))
+            self._write(statement, (*ahead, at))
 
-    def _lay(self, statement, path):
+    def _write(self, statement, path):
         kind = statement[0]
         if kind == "set":
-            self._lay_tree(statement[2])
+            self._write_tree(statement[2])
             self.rows.append(("save", statement[1]))
         elif kind == "if":
-            self._lay_if(statement, path)
+            self._write_if(statement, path)
         elif kind == "while":
-            self._lay_while(statement, path)
+            self._write_while(statement, path)
         elif kind == "choose":
-            self._lay_choose(statement, path)
+            self._write_choose(statement, path)
         else:
             self.numbers.append((path, len(self.rows)))
             self.rows.append(statement)
 
-    def _lay_tree(self, tree):
+    def _write_tree(self, tree):
         kind = tree[0]
         if kind == "num":
             self.rows.append(("push", tree[1]))
@@ -66,29 +66,29 @@ class Compiler:
             self.rows.append(("push", 1))
         else:
             for part in tree[1:]:
-                self._lay_tree(part)
+                self._write_tree(part)
             self.rows.append((SIGNS.get(kind, kind),))
 
-    def _lay_if(self, statement, path):
-        self._lay_tree(statement[1])
+    def _write_if(self, statement, path):
+        self._write_tree(statement[1])
         unless = self._hole()
-        self._lay_body(statement[2], (*path, 0))
+        self._write_body(statement[2], (*path, 0))
         go = self._hole()
         self.rows[unless] = ("unless", len(self.rows))
-        self._lay_body(statement[3], (*path, 1))
+        self._write_body(statement[3], (*path, 1))
         self.rows[go] = ("go", len(self.rows))
 
-    def _lay_while(self, statement, path):
+    def _write_while(self, statement, path):
         start = len(self.rows)
-        self._lay_tree(statement[1])
+        self._write_tree(statement[1])
         unless = self._hole()
         self.numbers.append((path, len(self.rows)))
         self.rows.append(("loop",))
-        self._lay_body(statement[2], (*path, 0))
+        self._write_body(statement[2], (*path, 0))
         self.rows.append(("go", start))
         self.rows[unless] = ("unless", len(self.rows))
 
-    def _lay_choose(self, statement, path):
+    def _write_choose(self, statement, path):
         fork = self._hole()
         self.numbers.append((path, fork))
         targets = []
@@ -97,7 +97,7 @@ class Compiler:
             if index > 0:
                 goes.append(self._hole())
             targets.append((label, len(self.rows)))
-            self._lay_body(body, (*path, index))
+            self._write_body(body, (*path, index))
         self.rows[fork] = ("choose", statement[1], tuple(targets))
         for go in goes:
             self.rows[go] = ("go", len(self.rows))

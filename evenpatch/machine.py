@@ -287,8 +287,9 @@ class Session:
         frame = self._frames.pop()
         self._lines.append(f"back {frame.unit}")
         if self._frames:
-            self._frames[-1].kept = None
-            self._settle(self._frames[-1].at + 1)
+            caller = self._frames[-1]
+            caller.kept = None
+            self._settle(caller.at + 1)
         else:
             self.is_over = True
 

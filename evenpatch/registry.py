@@ -120,7 +120,7 @@ class Registry(Shelf):
     def lines(self):
         """The lines of the registry, by which it can be read again."""
         system = self.published()
-        found = system_lines(system)
+        found = list(system_lines(system))
         for side in self._promised:
             found.append(promised_line(side))
         for unit, _ in system[2]:

@@ -157,7 +157,8 @@ class Web:
         seen = {place: True}
         at = 0
         while at < len(found):
-            for target in self._targets(found[at], is_frame):
+            row = found[at]
+            for target in self._targets(row, is_frame):
                 if not isinstance(target, int) and target not in seen:
                     seen[target] = True
                     found.append(target)

@@ -53,7 +53,7 @@ def net_of(registry, unit, number, side, view):
 def do_meet(net, place, other, new):
     """Whether two places of webs meet, by all plans from both; None if there are very many."""
     plain, counter = Plain(net, place), Plain(other, new)
-    if max(plain.count(), counter.count()) > 120:
+    if max(plain.count(), counter.count()) > 60:
         return None
     offers = {tuple(corners(plain.lots(plan))) for plan in plain.plans()}
     for lots in offers:

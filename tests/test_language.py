@@ -157,6 +157,14 @@ class Language(unittest.TestCase):
         self.assertEqual(methods & attributes, set())
         self.assertEqual(attributes & BARRED_ATTRIBUTES, set())
         self.assertEqual((methods | attributes) & TAKEN, set())
+        for name in methods | attributes | {name for _, tree in self.each() for name, _ in bound_names(tree)}:
+            self.assertIsNone(re.match("_wall|_pe_|_dcw_|_enum_|_cm_|_twin_re_|_lay_|_law_|_stub_|_sre|_WallAttr", name), name)
+
+    def test_attributes_are_assigned_through_names(self):
+        for file, tree in self.each():
+            for node in ast.walk(tree):
+                if isinstance(node, ast.Attribute) and isinstance(node.ctx, ast.Store):
+                    self.assertIsInstance(node.value, ast.Name, f"{file.name}:{node.lineno}")
 
     def test_methods_that_are_called(self):
         own = {item.name for file in sources() for item in ast.walk(tree_of(file)) if isinstance(item, ast.FunctionDef)}

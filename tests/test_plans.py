@@ -61,7 +61,7 @@ def cases(seed, count, most=200):
 
 class Corners(Case):
     def test_against_all_plans(self):
-        for rng, system, unit, store, side, plains in cases(82, 250, 80):
+        for rng, system, unit, store, side, plains in cases(82, 250, 60):
             for plain in plains:
                 for plan in plain.plans():
                     found = corners_by(system, unit, store, side, plain.net.view, plan)
@@ -69,7 +69,7 @@ class Corners(Case):
                     self.assertIs(type(found), list)
 
     def test_families_against_all_plans(self):
-        for rng, system, unit, store, side, plains in cases(83, 250, 100):
+        for rng, system, unit, store, side, plains in cases(83, 250, 60):
             for plain in plains:
                 found = families(system, unit, side, plain.net.view)
                 self.assertEqual(len(found), plain.net.never)
