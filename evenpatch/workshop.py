@@ -14,7 +14,6 @@ class Workshop:
 
     def __init__(self, system):
         self.system = system
-        self.parties = system[0]
         self.space = Space(system[1])
         self.units = [unit for unit, body in system[2]]
         self.bodies = dict(system[2])

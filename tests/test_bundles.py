@@ -131,7 +131,7 @@ class Papers(Case):
             return
         _, door, store, plan, payoff, answer = paper
         for wrong in [(door, store, plan, [-item for item in payoff], answer), (door, store, (*plan, 0), payoff, answer),
-                      (door, store, plan, payoff, (*answer, 0)), (door, 9, plan, payoff, answer), ("x", store, plan, payoff, answer),
+                      (door, store, plan, payoff, (*answer, 0)), (door, 9, plan, payoff, answer), (door, len(payoff) - 1, plan, payoff, answer), ("x", store, plan, payoff, answer),
                       (door, store, plan, payoff[1:], answer), (None, store, plan, payoff, answer)]:
             self.assertIs(judge(("no", *wrong)), False)
         new = renamed(bodies[door], bodies)
@@ -230,6 +230,11 @@ class Asked(Case):
         system = text(f"unit a {{ {many} }} unit b {{ call a }} unit c {{ call b }}")
         self.judged(TooMany, [257], system, {"b": ()}, ())
         self.judged(TooMany, [257], system, {"c": rows}, ())
+        two = text(f"unit a {{ {many} }} unit b {{ }} unit c {{ }} unit d {{ call a call c }}")
+        two = with_body(two, "b", rows)
+        self.judged(TooMany, [257], two, {"c": (("call", "b"),), "d": ()}, ())
+        self.judged(TooMany, [257], two, {"d": (("call", "b"),)}, ())
+        self.judged(TooMany, [25], two, {"c": (("call", "b"),)}, ())
         # Then what the bodies call outside, in the view "T".
         system = text(f"unit a {{ {many} }} unit b {{ }} unit c {{ call b }}")
         self.judged(TooMany, [257], system, {"c": (("call", "a"),)}, ())
@@ -238,6 +243,7 @@ class Asked(Case):
         system = text("unit a { } unit b { call a } unit c { call b }")
         self.judged(TooMany, [257], system, {"b": nine, "c": (("call", "b"),)}, ())
         self.judged(TooMany, [257], system, {"b": nine, "c": rows + (("call", "b"),)}, ())
+        self.judged(TooMany, [257], system, {"a": nine, "b": (("call", "a"),), "c": ()}, ())
         # Then door by door: the published unit, and the body itself.
         self.assertEqual(bundle_paper(system, {"b": nine, "c": ()}, ())[0], "yes")
         system = text(f"unit a {{ }} unit b {{ {many} }} unit c {{ call a call b }}")

@@ -93,7 +93,11 @@ class Codes(Case):
                ("spin", True, "x", PAIRS), ("spin", "x", PAIRS), ("choose", 4, (("a", 3), ("b", 3))), ("choose", -1, (("a", 3), ("b", 3))),
                ("choose", 0, (("a", 3),)), ("choose", 0, (("a", 3), ("a", 3))), ("choose", 0, (("a", 4), ("b", 3))),
                ("choose", 0, (("a", 3), ("yes", 3))), ("choose", 0, [("a", 3), ("b", 3)]), ("choose", 0, (["a", 3], ("b", 3))),
-               ("choose", 0, (("a", 3),) * 4), ("choose", False, (("a", 3), ("b", 3))), ("call", 1), ("call", "if"), ("jump", 3), (1,), ()]
+               ("choose", 0, (("a", 3),) * 4), ("choose", False, (("a", 3), ("b", 3))), ("call", 1), ("call", "if"), ("jump", 3), (1,), (),
+               ("fork", 0, (("a", 3), ("b", 3))), ("spin", 1, "x", PAIRS, 0), ("draw", "x", PAIRS, 0), ("draw", "x"),
+               ("choose", 0, (("a", 3), ("b", 3)), 0), ("spin", 1, "yes", PAIRS), ("draw", "if", PAIRS), ("draw", "X", PAIRS),
+               ("choose", 0, (("a", 3), ("b", 3), ("c", 3), ("d", 3))), ("choose", 0, (("a", 3, 3), ("b", 3))),
+               ("choose", 0, (("a",), ("b", 3))), ("choose", 0, ("ab", ("b", 3))), ("choose", 0, ())]
         for row in [*bad, *strange()]:
             self.assertIs(self.within(row), False, row)
 
@@ -102,7 +106,7 @@ class Codes(Case):
         take = TAKES.get(row[0], 0) if isinstance(row, tuple) and row and isinstance(row[0], str) else 0
         left = 0 if not isinstance(row, tuple) or not row or row[0] not in PUTS else 1
         rows = [("push", 1)] * take + [row] + [("save", "x")] * left
-        if isinstance(row, tuple) and row[:1] in (("go",), ("unless",), ("choose",)):
+        if isinstance(row, tuple) and row[:1] in (("go",), ("unless",), ("choose",), ("fork",)):
             rows = [*rows, BACK] if take else rows + [BACK]
             return is_code([self.moved(item, len(rows) - 1) for item in rows])
         return is_code([*rows, BACK])
@@ -111,9 +115,9 @@ class Codes(Case):
         """A row of which the number 3 stands for the last row."""
         if row[:1] in (("go",), ("unless",)) and len(row) == 2 and row[1] == 3 and not isinstance(row[1], bool):
             return row[0], last
-        if row[:1] == ("choose",) and len(row) == 3 and isinstance(row[2], tuple):
-            return (*row[:2], tuple((item[0], last if item[1] == 3 else item[1]) if isinstance(item, tuple) else item
-                                    for item in row[2]))
+        if row[:1] in (("choose",), ("fork",)) and len(row) == 3 and isinstance(row[2], tuple):
+            return (*row[:2], tuple((item[0], last if item[1] == 3 else item[1], *item[2:])
+                                    if isinstance(item, tuple) and len(item) > 1 else item for item in row[2]))
         return row
 
     def test_backs_and_numbers(self):
@@ -136,6 +140,10 @@ class Codes(Case):
                 self.assertEqual(Code(rows).rows, tuple(rows))
             else:
                 self.refused(InvalidCode, [rows], Code, rows)
+
+    def test_numbers_just_behind_the_last_row(self):
+        for rows in [[("go", 2), BACK], [("push", 1), ("unless", 3), BACK], [("choose", 0, (("a", 1), ("b", 2))), BACK]]:
+            self.assertIs(is_code(rows), False)
 
     def test_many_rows(self):
         most = [("push", 1), ("save", "x")] * 699 + [("loop",), BACK]
@@ -269,6 +277,7 @@ class Running(Case):
             self.refused(InvalidRow, [value], answered, self.space, code, value, 0, None)
         for value in [*strange(), 6, Ratio(2), "2"]:
             self.refused(InvalidStore, [value], settled, self.space, code, 0, value)
+            self.refused(InvalidStore, [value], settled, self.space, code, 2, value)
             self.refused(InvalidStore, [value], answered, self.space, code, 2, value, None)
         for value in strange():
             self.refused(InvalidCode, [value], settled, self.space, value, 0, 0)

@@ -432,6 +432,13 @@ class Moves(Case):
         session = house.begin(0)
         self.refused(TooMany, [25], house.move, session, 0, ((1, 0, 0), 0))
         self.assertIsNone(house.move(session, 0, ((0,), 0)))
+        # All stores behind a call count, also those that the called unit never brings.
+        behind = "call u if x = 1 { " + "draw x 0 by 1 1 by 1 " * 14 + "} else { }"
+        units = "unit u { set x = 0 } unit game { choose p2 l { } or h { } if not [yes] { " + behind + "} else { } }"
+        house = House(Registry(text(units), [()]))
+        session = house.begin(0)
+        self.assertEqual(tell(house.move, session, 0, ((1, 0, 0), 0)), (TooMany, [28]))
+        self.assertEqual(house.lines(session), [])
         units = "unit game { choose p2 l { } or h { } if not [yes] { " + nine + "} else { } }"
         house = House(Registry(text(units), [(), (1,)]))
         session = house.begin(0)
@@ -448,6 +455,19 @@ class Moves(Case):
         self.assertEqual((found[0], found[1][:3]), (NotLet, [(), 1, ()]))
         session = house.begin(0)
         self.assertIsNone(house.move(session, 0, 0))
+
+    def test_nine_moves_of_calls_that_wait(self):
+        """The ninth move is refused as such, also where it would not be let by."""
+        system = text("unit u { } unit game { call u if x = 0 { set x = 1 } else { } call u }")
+        house = House(Registry(system, [()]))
+        session = house.begin(0)
+        house.step(session)
+        self.assertEqual(tell(house.move_waiting, session, 0, 0, ((2,), 0))[0], NotLet)
+        self.assertEqual(tell(house.move, session, 0, 0), None)
+        for _ in range(7):
+            house.move_waiting(session, 0, 0, ((0,), 0))
+        self.refused(TooMany, [9], house.move_waiting, session, 0, 0, ((2,), 0))
+        self.refused(TooMany, [9], house.move, session, 0, 0)
 
     def test_a_loop_is_mended(self):
         """While a session goes round in a loop, it is moved to an edition in which the loop can be left."""

@@ -403,6 +403,10 @@ class Moves(Case):
         for value in [*strange(), 0, 1, ((0,), 1), ((0,), 0, 0), ((1,), 0), ((0,), False), [(0,), 0]]:
             self.refused(InvalidRow, [value], session.move_waiting, 1, 0, value)
             self.refused(InvalidRow, [value], session.move_waiting, 0, 0, value)
+        # The call of another unit is none for which a frame waits.
+        other = self.shelf.exchange("game", (("call", "a"), ("call", "b")))
+        place = ((0,), 0)
+        self.refused(InvalidRow, [place], session.move_waiting, 0, other, place)
         # A while is a place only where its condition holds; where no session comes, a statement is one, too.
         self.assertIsNone(session.move(1, ((0,), 1)))
         self.assertEqual(session.asks(), ("loop",))

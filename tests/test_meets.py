@@ -185,6 +185,8 @@ class Judged(Case):
         last = lambda *row: change([*rows[:-1], row])
         self.assertIs(judge(last(i, j, tuple(shares), tuple(others))), True)
         self.assertIs(judge(last(i + 1, j, shares, others)), False)
+        self.assertIs(judge(last(i, j, shares, others, 0)), False)
+        self.assertIs(judge(last(i, j, shares)), False)
         self.assertIs(judge(last(i, j + 1, shares, others)), False)
         self.assertIs(judge(last(Ratio(i), j, shares, others)), False)
         self.assertIs(judge(last(i, j, shares, [item * 2 for item in others])), False)

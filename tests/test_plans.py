@@ -194,6 +194,13 @@ class Bounds(Case):
         four = "unit b { call a call a call a call a } "
         system = text(part + four, "name x 2")
         self.assertEqual(families(system, "b", (), "S")[1], [[(10 ** 40 - 9 ** 40, 9 ** 40, 0)]])
+        just = text(part.replace("by 9", "by 10") + four, "name x 2")
+        self.refused(TooGreat, ["b", 1], families, just, "b", (), "S")
+        self.refused(TooGreat, ["b", 1], corners_by, just, "b", 1, (), "S", ())
+        # Nine draws with 9 of 10 parts and one with 9 of 11, four times: the greatest integer is some 1.4 * 10 ** 40.
+        near = text(part.replace("0 by 1", "0 by 2", 1) + four, "name x 2")
+        self.assertLess(11 ** 4 * 10 ** 36 - 9 ** 40, 10 ** 41)
+        self.refused(TooGreat, ["b", 1], families, near, "b", (), "S")
         more = part.replace("by 9", "by 12")
         for calls in (3, 4):
             system = text(more + "unit b { " + "call a " * calls + "} unit c { call b }", "name x 2")
@@ -464,6 +471,12 @@ class Values(Case):
                             continue
                         one = [item, *paper[at][1:]]
                         self.assertIs(judge(*args, (*paper[:at], one, *paper[at + 1:])), False)
+            # Two rows that change their names.
+            names = [row for row, _ in paper[2]]
+            names[0], names[1] = names[1], names[0]
+            for at in (2, 3):
+                one = [(row, number) for row, (_, number) in zip(names, paper[at])]
+                self.assertIs(judge(*args, (*paper[:at], one, *paper[at + 1:])), False)
             row = paper[2][0][0]
             for wrong in [((False,), 1), (row[0], True), (list(row[0]), 1), [*row], ((Ratio(0),), 1), (row[0], Ratio(1))]:
                 one = [(wrong, paper[2][0][1]), *paper[2][1:]]
@@ -499,6 +512,21 @@ class Values(Case):
         for call, judge in [(forced, is_forced), (held, is_held)]:
             paper = call(system, "game", 0, (1,), [0, 0, 0, 10 ** 59, 10 ** 59 - 1, 0])
             self.assertIs(judge(system, "game", 0, (1,), [0, 0, 0, 10 ** 59, 10 ** 59 - 1, 0], paper), True)
+
+    def test_slow_wins(self):
+        """What is won only behind some 25 ** 18 rounds is won, so the enemy stays where it is rather than let it come."""
+        slow = "unit slow { " + "if x = 1 { draw x 1 by 1 0 by 12 2 by 12 } else { } " * 9 + "} "
+        again = "if x = 1 { call slow if x = 1 { set x = 5 } else { set x = 0 } } else { set x = 0 } "
+        body = "while x = 3 { choose p2 stay { } or go { draw x 0 by 1 4 by 1 } } "
+        body += "while x < 3 { choose p1 a { set x = 1 } or b { set x = 1 } call slow " + again + "} "
+        system = text(slow + "unit game { " + body + "}", "name x 6")
+        for great in (1, 1000, 10 ** 58):
+            for payoff, want in [([0, 0, 0, 0, -great, great + 2, 0], 0), ([0, 0, 0, 0, -great - 2, great, 0], -1)]:
+                self.assertEqual(value(system, "game", 3, (1,), payoff), want)
+                self.assertEqual(value(system, "game", 3, (2,), [-item for item in payoff]), -want)
+                for side, items in [((1,), payoff), ((2,), [-item for item in payoff])]:
+                    for call, judge in [(forced, is_forced), (held, is_held)]:
+                        self.assertIs(judge(system, "game", 3, side, items, call(system, "game", 3, side, items)), True)
 
     def test_great_games(self):
         """Twenty-four rows of both, with loops, against the judges of both."""

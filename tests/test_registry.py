@@ -15,7 +15,7 @@ from evenpatch.errors import (InvalidBody, InvalidEdition, InvalidLines, Invalid
 from evenpatch.machine import Shelf
 from evenpatch.meets import harm, harm_paper, is_paper_for, paper_for, stands_for
 from evenpatch.parties import sides
-from evenpatch.plans import value
+from evenpatch.plans import families, value
 from evenpatch.ratios import Ratio
 from evenpatch.registry import Registry, read_registry
 from evenpatch.texts import read_system, write_system
@@ -265,6 +265,37 @@ class Exchanges(Case):
         told = tell(registry.exchange, "game", body)
         self.assertEqual(told[0], TooRich)
         self.assertEqual(tell(registry.exchange_at, "game", body, 0), told)
+
+    def test_called_units_are_asked_for_in_both_views(self):
+        """A unit with ten sets in the view "S" has one set of few corners in the view "T"."""
+        rich = "choose p1 a { set x = 0 } or b { draw x 0 by 1 1 by 1 } or c { set x = 1 } "
+        rich += "choose p1 a { } or b { draw x 2 by 1 3 by 1 } or c { set x = 4 } "
+        system = text("unit toss { " + rich + "} unit game { }", "name x 6")
+        body = (("call", "toss"),)
+        for promised in ([(1,)], [(), (1,)]):
+            registry = Registry(system, promised)
+            for call, more in [(registry.exchange, ()), (registry.exchange_at, (1,))]:
+                self.refused(TooRich, ["toss", 0, (1,), 10] if promised == [(1,)] else ["toss", 0, (), 10],
+                             call, "game", body, *more)
+        registry = Registry(text("unit toss { " + rich.replace("p1", "p2") + "} unit game { }", "name x 6"), [(1,), (2,)])
+        self.refused(TooRich, ["toss", 0, (1,), 10], registry.exchange, "game", body)
+        registry = Registry(text("unit toss { " + rich.replace("p1", "p2") + "} unit game { }", "name x 6"), [(1, 2), (2,)])
+        self.refused(TooRich, ["toss", 0, (1, 2), 10], registry.exchange, "game", body)
+        # With the first side all is well in both views; the second one's sets are too many in "S" alone.
+        rich = "choose p1 a { set x = 0 } or b { draw x 0 by 1 1 by 1 } or c { set x = 1 } "
+        rich += "choose p1 a { } or b { draw x 1 by 1 2 by 1 } or c { set x = 2 } "
+        toss = "choose p2 free { " + rich + "} or fix { spin p2 x 0 by 1 1 by 1 2 by 1 } "
+        system = text("unit toss { " + toss + "} unit game { }", "name x 3")
+        self.assertEqual([len(families(system, "toss", side, view)[0]) for side in [(1,), (1, 2)] for view in "ST"],
+                         [1, 3, 10, 1])
+        body = (("call", "toss"),)
+        self.assertEqual(tell(Registry(system, [(1,)]).exchange, "game", body)[0], NotLet)
+        registry = Registry(system, [(1,), (1, 2)])
+        for call, more in [(registry.exchange, ()), (registry.exchange_at, (1,))]:
+            self.refused(TooRich, ["toss", 0, (1, 2), 10], call, "game", body, *more)
+        self.refused(TooRich, ["toss", 0, (1, 2), 10], registry.exchange_all, {"game": body})
+        calling = with_body(system, "game", body)
+        self.refused(TooRich, ["toss", 0, (1, 2), 10], Registry, calling, [(1,), (1, 2)])
 
     def test_prices(self):
         registry = Registry(text(TOSS), [(1,)])
