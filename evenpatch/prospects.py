@@ -18,9 +18,7 @@ class Prospect:
 
     def __init__(self, web, place):
         self.board = Board(web, place)
-        mine, other = ("A", "B") if web.view == "S" else ("B", "A")
-        self.own = self.board.free_rows(mine)
-        self.other = self.board.free_rows(other)
+        self.own = self.board.free_rows("A" if web.view == "S" else "B")
         self._is_own = {row: True for row in self.own}
 
     def is_plan(self, value):

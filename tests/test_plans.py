@@ -75,6 +75,23 @@ class Corners(Case):
                 self.assertEqual(len(found), plain.net.never)
                 self.assertEqual(found[store], plain_family(plain))
 
+    def test_sets_that_are_left_out(self):
+        """A set is left out if it has all lots of another one, at its corners or as mixtures."""
+        coin = "draw x 0 by 1 1 by 1"
+        pick = "choose p2 c { set x = 0 } or d { set x = 1 }"
+        pick_all = "choose p2 c { set x = 0 } or d { set x = 1 } or e { set x = 2 }"
+        some = "choose p2 c { draw x 0 by 2 1 by 1 2 by 1 } or d { draw x 0 by 1 1 by 1 2 by 2 }"
+        third = "draw x 0 by 1 1 by 1 2 by 1"
+        for first, second, want in [(coin, pick, [[(1, 1, 0, 0)]]), (pick, coin, [[(1, 1, 0, 0)]]),
+                                    ("set x = 1", pick, [[(0, 1, 0, 0)]]), (pick_all, pick, [[(0, 1, 0, 0), (1, 0, 0, 0)]]),
+                                    (pick_all, some, [[(1, 1, 2, 0), (2, 1, 1, 0)]]), (third, pick_all, [[(1, 1, 1, 0)]]),
+                                    (third, some, [[(1, 1, 1, 0)], [(1, 1, 2, 0), (2, 1, 1, 0)]]),
+                                    (coin, some, [[(1, 1, 0, 0)], [(1, 1, 2, 0), (2, 1, 1, 0)]])]:
+            system = text(f"unit game {{ choose p1 a {{ {first} }} or b {{ {second} }} }}")
+            self.assertEqual(families(system, "game", (1,), "S")[2], want)
+            other = text(f"unit game {{ choose p2 a {{ {first} }} or b {{ {second} }} }}".replace("choose p2 c", "choose p1 c"))
+            self.assertEqual(families(other, "game", (1,), "T")[2], want)
+
     def test_never(self):
         stay = text("unit game { while x = 0 { choose p1 on { } or off { set x = 1 } } }")
         self.assertEqual(corners_by(stay, "game", 0, (1,), "S", (0,)), [(0, 0, 0, 1)])

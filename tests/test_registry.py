@@ -390,6 +390,18 @@ class Bundles(Case):
         self.assertEqual(tell(registry.exchange_all, {"a": (("set", "x", ("num", 1)),)})[0], NotLet)
         self.assertEqual(len(registry.editions("a")), 1)
 
+    def test_papers_of_doors(self):
+        """The paper of a door goes by the bundle's own families, not by those of published units."""
+        system = text("unit w { draw x 0 by 1 1 by 1 } unit u { call w } unit game { call u }")
+        registry = Registry(system, [(1,)])
+        bodies = {"u": (("call", "w"), ("call", "w")),
+                  "w": body_from("choose p1 a { draw x 0 by 1 1 by 1 } or b { set x = 0 }")}
+        self.assertEqual(registry.exchange_all(bodies), (("w", 1), ("u", 1)))
+        paper = bundle_paper(system, bodies, (1,))
+        self.assertEqual([registry.paper("w", 1), registry.paper("u", 1)], [None, [((1,), ("yes", paper[1][0][1]))]])
+        self.assertNotEqual(paper_for(system, "u", bodies["u"], (1,)), registry.paper("u", 1)[0][1])
+        self.assertEqual([len(row[3]) for row in paper[1][0][1][0]], [2])
+
     def test_rich_in_one_view(self):
         """Ten sets in "S" are asked for in bundles, too, though a bundle's paper goes by "T"."""
         rich = "choose p1 a { set x = 0 } or b { draw x 0 by 1 1 by 1 } or c { set x = 1 } "
