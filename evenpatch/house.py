@@ -2,6 +2,7 @@
 
 from evenpatch.asked import need_store
 from evenpatch.errors import InvalidAnswer, InvalidPurse, InvalidSession, NotAsked, NotLet, TooMany
+from evenpatch.fields import FieldBook
 from evenpatch.kinds import is_row_of, is_within
 from evenpatch.machine import Session
 from evenpatch.prospects import Prospect
@@ -17,6 +18,7 @@ class House:
 
     def __init__(self, registry):
         self.registry = registry
+        self.book = FieldBook(registry)
         self._guests = []
 
     def begin(self, store, purses=None):
@@ -68,6 +70,10 @@ class House:
     def lines(self, session):
         """The list of a session's lines."""
         return self._guest(session).session.lines()
+
+    def last_line(self, session):
+        """The last one of a session's lines, None if there is none."""
+        return self._guest(session).session.last_line()
 
     def store_now(self, session):
         """The store that a session is in."""

@@ -225,6 +225,10 @@ class Session:
         """The list of the lines of all steps and moves."""
         return list(self._lines)
 
+    def last_line(self):
+        """The last one of these lines, None if there is none."""
+        return self._lines[-1] if self._lines else None
+
     def need_move(self, number, place):
         """Refuses a move of the last frame that leads nowhere, however many moves there have been."""
         if self.is_over:

@@ -42,19 +42,30 @@ class Registry(Shelf):
 
     def exchange(self, unit, body):
         """Lets an edition with this body stand, a new one only if it is let by for each promised side; its number."""
+        self.need_let(unit, body)
+        return self.take(unit, body)
+
+    def need_let(self, unit, body):
+        """Refuses a body that cannot be exchanged."""
         with_body(self.published(), unit, body)
         edition = self.equal_edition(unit, body)
         if edition is None:
             self.need_room([unit])
         elif is_free(self._harms[(unit, edition.number)]):
-            self.stand(unit, edition.number)
-            return edition.number
+            return
         for side, rivals in self._judged(unit, body):
             attack = rivals.attack()
             if attack is not None:
                 store, plan, payoff, answer = attack
                 raise NotLet(side, store, plan, payoff, answer)
-        return self._laid(unit, body, self._no_harms())
+
+    def take(self, unit, body):
+        """Lets an edition with a body that is not refused stand; its number."""
+        edition = self.equal_edition(unit, body)
+        if edition is None:
+            return self._laid(unit, body, self._no_harms())
+        self.stand(unit, edition.number)
+        return edition.number
 
     def exchange_at(self, unit, body, price):
         """Lets an edition with this body stand, if no promised side is harmed above a price; its number."""
@@ -142,7 +153,9 @@ class Registry(Shelf):
             if edition.bundle == ():
                 self._webs[key] = self._shop.web_for(edition.body, edition.course, side, view)
             else:
-                self._webs[key] = self._owns[edition.bundle].web_of(unit, side, view)
+                own = self._owns[edition.bundle]
+                own.need(side, view)
+                self._webs[key] = own.web_of(unit, side, view)
         return self._webs[key]
 
     def _need_bounds(self, body):
