@@ -23,7 +23,7 @@ def is_claim(webs, places, store, payoff, value):
         if at + 1 < len(webs):
             ends = claim.handed_up(place)
         else:
-            pack = moved_by(claim.worths[place], payoff[-1])
+            pack = moved_by(claim.packs[place], payoff[-1])
     return number == Ratio(pack[1], pack[0])
 
 
@@ -31,7 +31,7 @@ class Claim:
     """The table and the ranks of one frame, as packs counted from never's."""
 
     def __init__(self, web, ends, never):
-        self.worths = {outcome: pack for outcome, pack in enumerate(ends)}
+        self.packs = {outcome: pack for outcome, pack in enumerate(ends)}
         self._debts = {outcome: nought(1) for outcome in range(len(ends))}
         self._web = web
         self._never = never
@@ -52,7 +52,7 @@ class Claim:
                 return False
             if not all([is_number(one) for one in item[1]]) or not is_number(rank[1]) or as_ratio(rank[1]).top < 0:
                 return False
-            self.worths[row] = moved_by(pack_of(item[1]), -self._never)
+            self.packs[row] = moved_by(pack_of(item[1]), -self._never)
             self._debts[row] = pack_of([-as_ratio(rank[1])])
         self._rows = rows
         return True
@@ -72,7 +72,7 @@ class Claim:
     def handed_up(self, row):
         """The list of the packs by which the frame above goes."""
         places = [self._web.behind(row, outcome) for outcome in range(self._web.never + 1)]
-        return [joined_packs(self.worths[place], self._debts[place]) for place in places]
+        return [joined_packs(self.packs[place], self._debts[place]) for place in places]
 
     def _is_told(self, row, item):
         """Whether any value is a tuple of this row and something else."""
@@ -80,8 +80,8 @@ class Claim:
 
     def _goes(self, row, move):
         """Whether a move goes with the paper: more is behind it, or as much, and then the rank pays for the row."""
-        worth = self.worths[row]
-        mean = mean_pack(move, self.worths)
+        worth = self.packs[row]
+        mean = mean_pack(move, self.packs)
         if mean != worth:
             return is_above(mean, worth)
         debt = mean_pack(move, self._debts)

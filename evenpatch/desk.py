@@ -95,7 +95,7 @@ class Desk:
     def lines(self):
         """The lines of the desk, by which it can be read again."""
         found = []
-        for name in self.names():
+        for name in sorted(list(self._houses)):
             found.append(f"house {name}")
             found.extend(picture(self._houses[name]))
             for rollout in self._rollouts[name]:

@@ -32,21 +32,21 @@ class FieldBook:
 class Field:
     """What the rows of a web bring, for the side in the view "S", for its enemy in the view "T".
 
-    `worths` has the packs of the rows and outcomes, all counted from never's, which so has noughts. `debts` has packs
+    `packs` has the packs of the rows and outcomes, all counted from never's, which so has noughts. `debts` has packs
     of one number, the opposite of the rank. Of both the leader wants much. Rows are worked out when they are needed.
     """
 
     def __init__(self, web, ends):
         self.web = web
-        self.worths = {outcome: pack for outcome, pack in enumerate(ends)}
+        self.packs = {outcome: pack for outcome, pack in enumerate(ends)}
         self.debts = {outcome: nought(1) for outcome in range(len(ends))}
         self._leader = "A" if web.view == "S" else "B"
 
     def need(self, place):
         """Works out all rows of the frame from a place."""
-        if place in self.worths:
+        if place in self.packs:
             return
-        rows = [row for row in self.web.frame_rows(place) if row not in self.worths]
+        rows = [row for row in self.web.frame_rows(place) if row not in self.packs]
         numbers = {row: at for at, row in enumerate(rows)}
         ahead = []
         for row in rows:
@@ -64,14 +64,14 @@ class Field:
         found = []
         for outcome in range(self.web.never + 1):
             place = self.web.behind(row, outcome)
-            found.append(joined_packs(self.worths[place], self.debts[place]))
+            found.append(joined_packs(self.packs[place], self.debts[place]))
         return tuple(found)
 
     def best_index(self, row):
         """The index of the first move of a row that keeps what it brings, with the least rank of all that keep it."""
         self.need(row)
         moves = self.web.moves_of(row)
-        kept = [at for at, move in enumerate(moves) if mean_pack(move, self.worths) == self.worths[row]]
+        kept = [at for at, move in enumerate(moves) if mean_pack(move, self.packs) == self.packs[row]]
         debts = [mean_pack(moves[at], self.debts) for at in kept]
         return kept[debts.index(best_pack(debts, 1))]
 
@@ -85,26 +85,26 @@ class Field:
         """Works out a row that leads to known places alone."""
         sign = self._sign(row)
         moves = self.web.moves_of(row)
-        means = [mean_pack(move, self.worths) for move in moves]
+        means = [mean_pack(move, self.packs) for move in moves]
         best = best_pack(means, sign)
         debts = [mean_pack(move, self.debts) for move, pack in zip(moves, means) if pack == best]
-        self.worths[row] = best
+        self.packs[row] = best
         self.debts[row] = with_cost(best_pack(debts, sign), best)
 
     def _settle_knot(self, rows):
         """Works out rows that lead to one another, and else to known places."""
         signs = [self._sign(row) for row in rows]
         moves = [self.web.moves_of(row) for row in rows]
-        knot = knot_over(rows, signs, moves, self.worths, [0] * len(rows), [0] * len(rows))
+        knot = knot_over(rows, signs, moves, self.packs, [0] * len(rows), [0] * len(rows))
         knot.solve()
-        kept = [knot.kept(at) for at in range(len(rows))]
+        kept = [knot.keeping(at) for at in range(len(rows))]
         moves = [[row_moves[at] for at in indices] for row_moves, indices in zip(moves, kept)]
         picks = [indices.index(pick) for indices, pick in zip(kept, knot.picks)]
         costs = [int(sign_of(pack) > 0) for pack in knot.brought]
         ranking = knot_over(rows, signs, moves, self.debts, picks, costs)
         ranking.solve()
         for row, pack, debt in zip(rows, knot.brought, ranking.brought):
-            self.worths[row] = pack
+            self.packs[row] = pack
             self.debts[row] = debt
 
 
@@ -116,7 +116,7 @@ def with_cost(debt, worth):
 
 
 def knot_over(rows, signs, moves, packs, picks, costs):
-    """The knot of some rows with their moves, by the packs of the places to which else they lead, with costs of rows."""
+    """The knot of some rows with their moves, by the packs of other places to which they lead, and costs of rows."""
     numbers = {row: at for at, row in enumerate(rows)}
     bottom = 1
     many = len(packs[0]) - 1

@@ -31,7 +31,7 @@ class Knot:
             if not self._switch(1) and not self._stay(1):
                 return
 
-    def kept(self, row):
+    def keeping(self, row):
         """The indices of the moves of a row that bring just what the row brings."""
         return [at for at, move in enumerate(self._moves[row]) if self._mean(move) == self.brought[row]]
 
@@ -75,12 +75,12 @@ class Knot:
         if self._signs[row] == sign:
             return len(self._inner_picks(row, inside)) > 0
         if sign > 0 and self._signs[row] < 0:
-            return len(self._inner_picks(row, inside)) == len(self.kept(row))
+            return len(self._inner_picks(row, inside)) == len(self.keeping(row))
         return is_inside(self._moves[row][self.picks[row]], inside)
 
     def _inner_picks(self, row, inside):
         """The indices of the moves that keep what a row brings and lead to rows inside alone."""
-        return [at for at in self.kept(row) if is_inside(self._moves[row][at], inside)]
+        return [at for at in self.keeping(row) if is_inside(self._moves[row][at], inside)]
 
     def _mean(self, move):
         """The pack of what a move brings."""

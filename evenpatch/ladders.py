@@ -7,32 +7,29 @@ from evenpatch.ratios import Ratio
 
 
 class Ladder:
-    """Frames, tuples (unit, number, place), the lowest first, of which it goes up by packs for the outcomes.
-
-    `ends` are the packs by which the last frame goes, or, where there are no frames, those with which it began.
-    """
+    """Frames, tuples (unit, number, place), the lowest first, which goes by the packs `ends` of the outcomes."""
 
     def __init__(self, book, frames, side, view, ends):
         # What is too much for the web of any frame is told ahead of all else.
         for unit, number, _ in frames:
             book.web_at(unit, number, side, view)
-        self.frames = frames
+        self._frames = frames
         self.fields = []
-        self.ends = ends
+        self._ends = ends
         for unit, number, place in frames:
             if self.fields:
-                self.ends = self.fields[-1].handed_up(frames[len(self.fields) - 1][2])
-            self.fields.append(book.field(unit, number, side, view, self.ends))
+                self._ends = self.fields[-1].handed_up(frames[len(self.fields) - 1][2])
+            self.fields.append(book.field(unit, number, side, view, self._ends))
 
-    def top(self):
+    def top_pack(self):
         """The pack of the place of the last frame."""
-        place = self.frames[-1][2]
+        place = self._frames[-1][2]
         self.fields[-1].need(place)
-        return self.fields[-1].worths[place]
+        return self.fields[-1].packs[place]
 
     def best_index(self):
         """The index of the move to take at the row where the last frame stands."""
-        return self.fields[-1].best_index(self.frames[-1][2])
+        return self.fields[-1].best_index(self._frames[-1][2])
 
 
 def need_asked(house, session, side, payoff):
@@ -60,5 +57,5 @@ def number_there(book, frames, store, side, view, payoff):
     ladder = Ladder(book, frames, side, view, ends_by(payoff))
     if not frames:
         return Ratio(payoff[store])
-    pack = moved_by(ladder.top(), payoff[-1])
+    pack = moved_by(ladder.top_pack(), payoff[-1])
     return Ratio(pack[1], pack[0])

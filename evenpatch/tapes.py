@@ -13,7 +13,7 @@ class Tape:
 
     def __init__(self, space, unit, editions):
         self.space = space
-        self.told = 0
+        self._told = 0
         self._last_unit = unit
         self._editions = editions
 
@@ -23,11 +23,15 @@ class Tape:
 
     def standing(self, unit):
         """The number of the edition in which the first call begins."""
-        return self.told
+        return self._told
 
     def called(self, unit, number, other):
         """The number of the edition in which the next call begins."""
-        return self.told
+        return self._told
+
+    def tell(self, number):
+        """Lets the next call begin in the edition with a number."""
+        self._told = number
 
     def edition_of(self, unit, number):
         """The Edition of a unit with a number."""
@@ -51,7 +55,7 @@ class Playback:
     def __init__(self, tape, store):
         self.session = None
         self._tape = tape
-        self._store = store
+        self._began = store
 
     def takes(self, line):
         """Whether a line fits behind those ahead of it; if so, what it tells is done."""
@@ -81,16 +85,17 @@ class Playback:
         if len(words) != 3:
             return False
         unit = words[1]
-        self._tape.told = number_of(words[2])
+        told = number_of(words[2])
+        self._tape.tell(told)
         if self.session is None:
-            if unit != self._tape.last_unit() or not self._tape.is_called(None, unit, self._tape.told):
+            if unit != self._tape.last_unit() or not self._tape.is_called(None, unit, told):
                 return False
-            self.session = Session(self._tape, self._store)
+            self.session = Session(self._tape, self._began)
             return True
         if self.session.asks() != ("call", unit):
             return False
         name, number, _ = self.session.frames()[-1]
-        if not self._tape.is_called(self._tape.edition_of(name, number), unit, self._tape.told):
+        if not self._tape.is_called(self._tape.edition_of(name, number), unit, told):
             return False
         self.session.go()
         return True

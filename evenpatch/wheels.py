@@ -1,4 +1,4 @@
-"""One wheel of nature for a unit: a lot that lies in all polygons of some sides, or payoffs that show that none does."""
+"""One wheel of nature for a unit: a lot in all polygons of some sides, or payoffs that show that there is none."""
 
 from evenpatch.asked import is_payoff, need_store, need_unit_of
 from evenpatch.cones import mixing
@@ -101,7 +101,7 @@ class Hunt:
     def __init__(self, sets):
         self.lot = None
         self.shares = []
-        self._sets = sets
+        self._groups = sets
         self._many = len(sets[0][0])
         self._cuts = []
         self._weights = None
@@ -120,7 +120,7 @@ class Hunt:
 
     def payoffs(self):
         """For each set a payoff, all of which sum to 0, with least means that sum to more than 0."""
-        found = [[0] * self._many for lots in self._sets]
+        found = [[0] * self._many for lots in self._groups]
         for (place, cut), weight in zip(self._cuts, self._weights):
             found[place] = [item + weight * more for item, more in zip(found[place], cut)]
         for at in range(self._many):
@@ -132,7 +132,7 @@ class Hunt:
         """Keeps a lot that lies in all polygons, or the cuts that part it from some."""
         found = []
         is_parted = False
-        for place, lots in enumerate(self._sets):
+        for place, lots in enumerate(self._groups):
             shares, payoff = mixing(lots, lot)
             found.append(shares)
             if shares is None:

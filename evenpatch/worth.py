@@ -45,7 +45,7 @@ def paper_in(house, session, side, view, payoff):
     for field, (_, _, place) in zip(ladder.fields, frames):
         field.need(place)
         rows = field.web.frame_rows(place)
-        table = [(row, numbers_of(moved_by(field.worths[row], seen[-1]))) for row in rows]
+        table = [(row, numbers_of(moved_by(field.packs[row], seen[-1]))) for row in rows]
         ranks = [(row, Ratio(-field.debts[row][1], field.debts[row][0])) for row in rows]
         papers.append((table, ranks))
     return number_there(house.book, frames, house.store_now(session), side, view, seen), papers

@@ -148,3 +148,10 @@ def greatest(numbers):
 def least(numbers):
     found = [number for number in numbers if number is not INFINITE]
     return min(found) if found else INFINITE
+
+
+def mean_behind_of(move, worths):
+    """The mean of what is behind a move, all of whose places are known."""
+    whole = sum(weight for _, weight in move)
+    many = len(worths[move[0][0]])
+    return tuple(sum(Fraction(weight, whole) * worths[place][at] for place, weight in move) for at in range(many))
