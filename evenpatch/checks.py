@@ -1,10 +1,11 @@
 """Fair systems, and what stands in them."""
 
-from evenpatch.bodies import walked
+from evenpatch.bodies import count_of, walked
 from evenpatch.errors import InvalidBody, InvalidSystem, InvalidUnit, NotFair
-from evenpatch.faults import first_fault
+from evenpatch.faults import body_fault, first_fault
 from evenpatch.spaces import Space
 from evenpatch.texts import is_tree
+from evenpatch.trees import is_body_beside
 
 
 def check_system(system):
@@ -51,17 +52,26 @@ def calls_of(system, unit):
 def with_body(system, unit, body):
     """The system in which a unit has another body."""
     need_unit(system, unit)
+    need_body(system, unit, body)
     parties, names, units = system
-    changed = (parties, names, tuple([(name, body if name == unit else old) for name, old in units]))
-    if not is_tree(changed):
+    return parties, names, tuple([(name, body if name == unit else old) for name, old in units])
+
+
+def need_body(system, unit, body):
+    """Refuses what is no body for a unit of what surely is a fair system."""
+    count = sum([count_of(old) for name, old in system[2] if name != unit])
+    if not is_body_beside(body, system[0], count):
         raise InvalidBody(body)
-    need_fair(changed)
-    return changed
+    need_no_fault(body_fault(system, unit, body))
 
 
 def need_fair(system):
     """Refuses a system that is not fair."""
-    fault = first_fault(system)
+    need_no_fault(first_fault(system))
+
+
+def need_no_fault(fault):
+    """Refuses a fault, unless it is None."""
     if fault is not None:
         reason, unit, word = fault
         raise NotFair(reason, unit, word)

@@ -5,11 +5,27 @@ from evenpatch.kinds import is_tuple_of, is_whole, is_within
 from evenpatch.meaning import holds, worth_of
 
 
+class Ground:
+    """What webs of one body have in common whose rows have the same moves: these, and what has been worked out of them.
+
+    `moves` has the moves of rows, `ahead` and `frame_ahead` the rows to which rows lead, `layouts` the boards without
+    owners from places, and `families` what comes from places, for webs with the same owners.
+    """
+
+    def __init__(self):
+        self.moves = {}
+        self.ahead = {}
+        self.frame_ahead = {}
+        self.layouts = {}
+        self.families = {}
+
+
 class Course:
     """The statements of a body over a space, each with what comes behind it; None is the end of the body.
 
     Each statement has a number. Its path and the statement itself stand in `paths` and `told`, the number of what comes
-    behind it in `after`, and those of what its bodies begin with in `inner`.
+    behind it in `after`, and those of what its bodies begin with in `inner`. `calls` are the units that are called,
+    `spinners` the parties that spin and `choosers` those that choose, each once, ascending.
     """
 
     def __init__(self, space, body):
@@ -21,7 +37,12 @@ class Course:
         self.inner = []
         self._numbers = {}
         self._worths = [space.values_of(store) for store in space.stores()]
+        self._grounds = {}
+        self._firsts = {}
         self.start = self._laid(body, (), None)
+        self.calls = sorted(set([statement[1] for statement in self.told if statement[0] == "call"]))
+        self.choosers = sorted(set([statement[1] for statement in self.told if statement[0] == "choose"]))
+        self.spinners = sorted(set([statement[1] for statement in self.told if statement[0] == "spin"]))
 
     def _laid(self, body, ahead, after):
         """Lays the statements of a body; the number of what it begins with."""
@@ -43,6 +64,12 @@ class Course:
             starts.append(self._laid(body, (*path, index), behind))
         self.inner[number] = tuple(starts)
         return number
+
+    def ground(self, key):
+        """What all webs of the body with a key have in common; made once."""
+        if key not in self._grounds:
+            self._grounds[key] = Ground()
+        return self._grounds[key]
 
     def way(self, number, store):
         """The tuple (number, store) of the first row to which a way from a statement leads, or (None, store)."""
@@ -70,7 +97,9 @@ class Course:
 
     def first(self, store):
         """The place to which the way from the beginning of the body leads."""
-        return self.leads(self.start, store)
+        if store not in self._firsts:
+            self._firsts[store] = self.leads(self.start, store)
+        return self._firsts[store]
 
     def behind(self, path, outcome):
         """The place to which an outcome leads behind a statement."""

@@ -12,14 +12,22 @@ def first_fault(system):
         return "twice", None, word
     if stores_by(names) > MOST_STORES:
         return "stores", None, names[1][0]
-    sizes = dict(names)
-    ahead = []
     for unit, body in units:
-        for _, statement in walked(body, ()):
-            reason, word = statement_fault(statement, sizes, ahead)
-            if reason is not None:
-                return reason, unit, word
-        ahead.append(unit)
+        fault = body_fault(system, unit, body)
+        if fault is not None:
+            return fault
+    return None
+
+
+def body_fault(system, unit, body):
+    """The tuple (reason, unit, word) of the first thing that is wrong in a body as that of a unit, or None."""
+    sizes = dict(system[1])
+    units = [other for other, _ in system[2]]
+    ahead = units[:units.index(unit)]
+    for _, statement in walked(body, ()):
+        reason, word = statement_fault(statement, sizes, ahead)
+        if reason is not None:
+            return reason, unit, word
     return None
 
 

@@ -35,7 +35,7 @@ class Guide:
     def _first_part(self, index):
         """The lowest part of the wheel, where the session stands at a spin, that belongs to the pair with an index."""
         unit, number, place = self._house.frames(self._session)[-1]
-        statement = self._house.registry.edition_of(unit, number).course.statement_at(place[0])
+        statement = self._house.registry.edition_of(unit, number).course().statement_at(place[0])
         return sum([weight for value, weight in statement[-1][:index]])
 
     def _ladder(self, view):

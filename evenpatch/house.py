@@ -5,10 +5,10 @@ from evenpatch.errors import InvalidAnswer, InvalidPurse, InvalidSession, NotAsk
 from evenpatch.fields import FieldBook
 from evenpatch.kinds import is_row_of, is_within
 from evenpatch.machine import Session
-from evenpatch.prospects import Prospect
+from evenpatch.pairs import Encounters
+from evenpatch.prospects import family_from
 from evenpatch.ratios import Ratio, as_ratio, is_number
 from evenpatch.rivals import Rivals
-from evenpatch.workshop import family_among
 
 MOST_SESSIONS = 20
 
@@ -187,9 +187,9 @@ def is_purses(value, many):
 
 def need_met(webs, places, unit, store):
     """Refuses two places, one of each of two webs, that do not meet; unit and store are for errors."""
-    sets = Prospect(webs[0], places[0]).sets(unit, store)
-    counters = Prospect(webs[1], places[1]).sets(unit, store)
-    attack = Rivals([family_among(sets)], [family_among(counters)]).attack()
+    sets = family_from(webs[0], places[0], unit, store)
+    counters = family_from(webs[1], places[1], unit, store)
+    attack = Rivals([sets], [counters], Encounters()).attack()
     if attack is not None:
         _, plan, payoff, answer = attack
         raise NotLet(webs[0].side, store, plan, payoff, answer)

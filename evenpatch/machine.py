@@ -1,7 +1,7 @@
 """Shelves of editions, and sessions that go on with them."""
 
 from evenpatch.asked import need_store
-from evenpatch.checks import check_system, with_body
+from evenpatch.checks import check_system, need_body
 from evenpatch.editions import MOST_EDITIONS, Edition, doors_of, need_bodies
 from evenpatch.errors import InvalidAnswer, InvalidEdition, InvalidPart, InvalidRow, InvalidUnit, NotAsked, TooMany
 from evenpatch.kinds import is_within
@@ -48,11 +48,11 @@ class Shelf:
 
     def code_at(self, unit, number):
         """The code of an edition."""
-        return self.edition_of(unit, number).code
+        return self.edition_of(unit, number).code()
 
     def exchange(self, unit, body):
         """Lets an edition with this body stand, a new one if there is none; its number."""
-        with_body(self._system, unit, body)
+        self.need_body(unit, body)
         edition = self.equal_edition(unit, body)
         if edition is None:
             self.need_room([unit])
@@ -98,6 +98,11 @@ class Shelf:
                 return edition
         return None
 
+    def need_body(self, unit, body):
+        """Refuses what is no unit, and then what is no body for it in the published system."""
+        self._need_unit(unit)
+        need_body(self._system, unit, body)
+
     def need_room(self, units):
         """Refuses further editions of units that have as many as there may be."""
         for unit in units:
@@ -107,9 +112,13 @@ class Shelf:
     def lay_edition(self, unit, body):
         """Lays a new edition, which comes to stand; its number."""
         number = len(self._editions[unit])
-        self._editions[unit].append(Edition(self.space, number, body, (), False))
+        self._editions[unit].append(self.edition_by(number, body, (), False))
         self._standing[unit] = number
         return number
+
+    def edition_by(self, number, body, bundle, is_inner):
+        """A new Edition, not laid yet."""
+        return Edition(self.space, number, body, bundle, is_inner)
 
     def lay_bundle(self, bodies):
         """Lays the editions of a bundle, whose doors come to stand; the tuple of the tuples (unit, number)."""
@@ -117,7 +126,7 @@ class Shelf:
         doors = doors_of(self._system, bodies)
         for unit, number in bundle:
             is_inner = unit not in doors
-            self._editions[unit].append(Edition(self.space, number, bodies[unit], bundle, is_inner))
+            self._editions[unit].append(self.edition_by(number, bodies[unit], bundle, is_inner))
             if not is_inner:
                 self._standing[unit] = number
         return bundle
@@ -138,7 +147,7 @@ class Frame:
 
     def asked(self):
         """The row of code at which the frame stands."""
-        return self.edition.code.rows[self.at]
+        return self.edition.code().rows[self.at]
 
 
 class Session:
@@ -163,7 +172,7 @@ class Session:
         if self.is_over:
             return "over", self.store
         frame = self._frames[-1]
-        asked = question(frame.edition.code, frame.at)
+        asked = question(frame.edition.code(), frame.at)
         if asked[0] == "back":
             return "back", frame.unit
         return asked
@@ -304,4 +313,4 @@ class Session:
     def _settle(self, at):
         """Runs the last frame from a row on to the next one that asks."""
         frame = self._frames[-1]
-        frame.at, self.store = settle(self._space, frame.edition.code.rows, at, self.store)
+        frame.at, self.store = settle(self._space, frame.edition.code().rows, at, self.store)

@@ -64,7 +64,7 @@ def shop_of(system, unit, body, side):
 def rivals_of(shop, unit, body, side):
     """The sets of a published unit and the counters of a new body for it."""
     sets = shop.sets_of(unit, side, "S")
-    return Rivals(sets, shop.sets_for(unit, body, side, "T"))
+    return Rivals(sets, shop.sets_for(unit, body, side, "T"), shop.encounters)
 
 
 def prospects_at(shop, unit, body, side, store):

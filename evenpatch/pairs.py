@@ -6,6 +6,29 @@ from evenpatch.ratios import Ratio
 FEW_PAIRS = 16
 
 
+class Encounters:
+    """What is known of pairs of sets, tuples of lots, each pair asked once."""
+
+    def __init__(self):
+        self._payoffs = {}
+        self._gaps = {}
+
+    def payoff(self, lots, others):
+        """The payoff that parts two sets, None if they meet."""
+        key = (lots, others)
+        if key not in self._payoffs:
+            self._payoffs[key] = met(lots, others)[2]
+        return self._payoffs[key]
+
+    def gap(self, lots, others):
+        """The tuple (number, payoff) of the distance of two sets."""
+        key = (lots, others)
+        if key not in self._gaps:
+            number, _, _, payoff = gap_of(lots, others)
+            self._gaps[key] = (number, payoff)
+        return self._gaps[key]
+
+
 def met(lots, others):
     """The tuple (shares, shares, None) by which two sets meet, or (None, None, payoff) if they do not."""
     at, other_at = equal_places(lots, others)
@@ -15,11 +38,6 @@ def met(lots, others):
     if payoff is not None:
         return None, None, payoff
     return meeting(lots, others)
-
-
-def is_met(lots, others):
-    """Whether two sets meet."""
-    return met(lots, others)[2] is None
 
 
 def gap_of(lots, others):

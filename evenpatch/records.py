@@ -1,6 +1,6 @@
 """Records: sessions told from their beginnings on, and what the texts alone tell of them."""
 
-from evenpatch.checks import check_system, with_body
+from evenpatch.checks import check_system, need_body
 from evenpatch.editions import MOST_EDITIONS, Edition, doors_of
 from evenpatch.errors import InvalidRecord, InvalidSession, PactError
 from evenpatch.kinds import is_tuple_of, is_within
@@ -107,7 +107,7 @@ def is_edition(system, value):
 def is_body(system, unit, value):
     """Whether any value is a body for a unit."""
     try:
-        with_body(system, unit, value)
+        need_body(system, unit, value)
     except PactError:
         return False
     return True

@@ -2,8 +2,7 @@
 
 from evenpatch.bundles import first_attack
 from evenpatch.bundleshop import BundleShop
-from evenpatch.checks import with_body
-from evenpatch.editions import need_bodies
+from evenpatch.editions import Edition, need_bodies
 from evenpatch.errors import InvalidLines, InvalidPrice, InvalidPromised, NotLet, PactError, TooDear
 from evenpatch.machine import Shelf
 from evenpatch.meets import let_paper, rivals_of
@@ -11,7 +10,7 @@ from evenpatch.parties import is_side_of
 from evenpatch.ratios import Ratio, as_ratio, is_number
 from evenpatch.shelflines import edition_lines, promised_line, told_by
 from evenpatch.webs import is_ascending
-from evenpatch.workshop import Workshop, calls_in
+from evenpatch.workshop import Workshop
 from evenpatch.writer import system_lines
 
 MOST_PROMISED = 8
@@ -47,7 +46,7 @@ class Registry(Shelf):
 
     def need_let(self, unit, body):
         """Refuses a body that cannot be exchanged."""
-        with_body(self.published(), unit, body)
+        self.need_body(unit, body)
         edition = self.equal_edition(unit, body)
         if edition is None:
             self.need_room([unit])
@@ -69,7 +68,7 @@ class Registry(Shelf):
 
     def exchange_at(self, unit, body, price):
         """Lets an edition with this body stand, if no promised side is harmed above a price; its number."""
-        with_body(self.published(), unit, body)
+        self.need_body(unit, body)
         if not is_number(price) or as_ratio(price).top < 0 or Ratio(1).below(price):
             raise InvalidPrice(price)
         edition = self.equal_edition(unit, body)
@@ -141,6 +140,12 @@ class Registry(Shelf):
             found.append(f"stand {unit} {self.standing(unit)}")
         return found
 
+    def edition_by(self, number, body, bundle, is_inner):
+        """A new Edition, not laid yet, with the course by which its body has been judged."""
+        edition = Edition(self.space, number, body, bundle, is_inner)
+        edition.told_course(self._shop.course_by(body))
+        return edition
+
     def costs_of(self, unit, number, store):
         """The list of the harms of an edition at a store, one for each promised side."""
         return [numbers[store] for side, numbers in self._harms[(unit, number)]]
@@ -151,7 +156,7 @@ class Registry(Shelf):
         if key not in self._webs:
             edition = self.edition_of(unit, number)
             if edition.bundle == ():
-                self._webs[key] = self._shop.web_for(edition.body, edition.course, side, view)
+                self._webs[key] = self._shop.web_for(edition.course(), side, view)
             else:
                 own = self._owns[edition.bundle]
                 own.need(side, view)
@@ -175,7 +180,7 @@ class Registry(Shelf):
 
     def _need_called(self, body, side):
         for view in ("S", "T"):
-            self._shop.need(calls_in(body), side, view)
+            self._shop.need(self._shop.course_by(body).calls, side, view)
 
     def _need_body_frames(self, body):
         need_frames(self._shop.web_by(body, self._promised[0], "S"))

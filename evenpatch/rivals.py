@@ -4,17 +4,18 @@ from evenpatch.asked import is_payoff
 from evenpatch.kinds import is_row_of, is_tuple_of, is_whole
 from evenpatch.lots import blend, is_shares, mean_by
 from evenpatch.nearest import least
-from evenpatch.pairs import gap_of, is_met, met, near_places, near_shares
+from evenpatch.pairs import met, near_places, near_shares
 from evenpatch.ratios import Ratio, as_ratio, is_number
 from evenpatch.rows import is_same_way
 
 
 class Rivals:
-    """The sets of a published body and the counters of a new one, with the prospects from which they come."""
+    """The sets of a published body and the counters of a new one, with the plans by which they come."""
 
-    def __init__(self, sets, counters):
+    def __init__(self, sets, counters, encounters):
         self.offers = sets
         self.counters = counters
+        self._encounters = encounters
 
     def pairs(self, store):
         """The list of the tuples ((set, plan), (counter, answer)) of a store."""
@@ -22,19 +23,16 @@ class Rivals:
 
     def is_let(self):
         """Whether each set meets each counter."""
-        for store in range(len(self.offers)):
-            for (lots, _), (others, _) in self.pairs(store):
-                if not is_met(lots, others):
-                    return False
-        return True
+        return self.attack() is None
 
     def attack(self):
         """The tuple (store, plan, payoff, answer) of the first set and counter that do not meet; None if all meet."""
         for store in range(len(self.offers)):
-            for (lots, plan), (others, answer) in self.pairs(store):
-                payoff = met(lots, others)[2]
-                if payoff is not None:
-                    return store, plan, payoff, answer
+            if self._like(store) == store:
+                for (lots, plan), (others, answer) in self.pairs(store):
+                    payoff = self._encounters.payoff(lots, others)
+                    if payoff is not None:
+                        return store, plan, list(payoff), answer
         return None
 
     def papers(self):
@@ -51,7 +49,11 @@ class Rivals:
 
     def harms(self):
         """For each store the greatest distance of a set and a counter."""
-        return [self.farthest(store)[0] for store in range(len(self.offers))]
+        found = []
+        for store in range(len(self.offers)):
+            first = self._like(store)
+            found.append(found[first] if first < store else self.farthest(store)[0])
+        return found
 
     def farthest(self, store):
         """The tuple (number, plan, answer, payoff) of a set and a counter with the greatest distance."""
@@ -59,10 +61,11 @@ class Rivals:
         for (lots, plan), (others, answer) in self.pairs(store):
             # Two lots that are near show at once that their sets are not farther apart.
             if near_places(lots, others, best[0])[0] is None:
-                number, _, _, payoff = gap_of(lots, others)
+                number, payoff = self._encounters.gap(lots, others)
                 if best[0].below(number):
                     best = (number, plan, answer, payoff)
-        return best
+        number, plan, answer, payoff = best
+        return number, plan, answer, list(payoff)
 
     def harm_papers(self):
         """For each store the tuple (number, plan, answer, payoff, pairs) of its harm."""
@@ -76,6 +79,13 @@ class Rivals:
                     rows.append((i, j, shares, other_shares))
             found.append((number, plan, answer, payoff, rows))
         return found
+
+    def _like(self, store):
+        """The first store with the same sets and counters."""
+        for other in range(store):
+            if self.offers[other] == self.offers[store] and self.counters[other] == self.counters[store]:
+                return other
+        return store
 
     def is_papers(self, value):
         """Whether any value has for each store shares by which all sets and counters meet."""

@@ -44,6 +44,12 @@ def is_units(value, parties):
     return total <= MOST_IN_ALL
 
 
+def is_body_beside(value, parties, count):
+    """Whether any value is a body of a unit that keeps all bounds while other units have so many statements."""
+    found = count_in_body(value, parties, 0, MOST_IN_UNIT)
+    return 0 <= found <= MOST_IN_ALL - count
+
+
 def count_in_body(value, parties, whiles, most):
     """How many statements any value has as a body within so many whiles, -1 if it is no body, or has more than most."""
     if not isinstance(value, tuple):

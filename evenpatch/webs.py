@@ -1,7 +1,7 @@
 """Webs: what can happen between a side and its enemy in the body of a unit."""
 
 from evenpatch.checks import body_of, calls_of, check_system
-from evenpatch.courses import Course
+from evenpatch.courses import Course, Ground
 from evenpatch.errors import InvalidFamilies, InvalidRow, InvalidSide, InvalidStore, InvalidUnit, InvalidView, TooMany
 from evenpatch.kinds import is_row_of, is_tuple_of, is_within
 from evenpatch.lots import is_lot_of
@@ -32,19 +32,24 @@ def web(system, unit, side, families, view):
         kept[name] = [[tuple(lots) for lots in family] for family in families[name]]
     if not is_view(view):
         raise InvalidView(view)
-    return Web(Course(space, body_of(system, unit)), side, kept, view)
+    return Web(Course(space, body_of(system, unit)), side, kept, view, Ground())
 
 
 class Web:
-    """The rows of a unit, whose they are, and where their moves lead."""
+    """The rows of a unit, whose they are, and where their moves lead.
 
-    def __init__(self, course, side, families, view):
+    Webs may have one ground if their courses, the parties of their sides that spin, and their families are the same.
+    """
+
+    def __init__(self, course, side, families, view, ground):
         self.never = course.never
         self.side = side
         self.view = view
         self._course = course
+        # Webs with one ground have the same owners if this is the same.
+        self.sort = (view, tuple([party in side for party in course.choosers]))
         self._families = families
-        self._kept = {}
+        self.ground = ground
 
     def is_row(self, value):
         """Whether any value is a row, set rows too."""
@@ -101,9 +106,10 @@ class Web:
 
     def moves_of(self, row):
         """The moves of what surely is a row, as tuples; worked out once."""
-        if row not in self._kept:
-            self._kept[row] = tuple([gathered(parts) for parts in self._parts_of(row)])
-        return self._kept[row]
+        kept = self.ground.moves
+        if row not in kept:
+            kept[row] = tuple([gathered(parts) for parts in self._parts_of(row)])
+        return kept[row]
 
     def _parts_of(self, row):
         """The list of the moves of a row, each a list of tuples (place, weight) as they come."""
@@ -157,23 +163,29 @@ class Web:
         seen = {place: True}
         at = 0
         while at < len(found):
-            row = found[at]
-            for target in self._targets(row, is_frame):
-                if not isinstance(target, int) and target not in seen:
+            for target in self._ahead(found[at], is_frame):
+                if target not in seen:
                     seen[target] = True
                     found.append(target)
             at += 1
         return sorted(found)
 
-    def _targets(self, row, is_frame):
-        """The places behind a row; in a frame a called unit may end in any store."""
-        if is_frame and len(row) == 3:
-            return [self._course.behind(row[0], store) for store in range(self.never)]
-        return [place for move in self.moves_of(row) for place, weight in move]
+    def _ahead(self, row, is_frame):
+        """The rows to which a row leads; in a frame a called unit may end in any store."""
+        kept = self.ground.frame_ahead if is_frame else self.ground.ahead
+        if row not in kept:
+            if is_frame and len(row) == 3:
+                places = [self._course.behind(row[0], store) for store in range(self.never)]
+            else:
+                places = [place for move in self.moves_of(row) for place, weight in move]
+            kept[row] = [place for place in places if not isinstance(place, int)]
+        return kept[row]
 
 
 def gathered(parts):
     """The move with these parts: each place once, ascending, with weights without a common divisor."""
+    if len(parts) == 1:
+        return ((parts[0][0], 1),)
     weights = {}
     for place, weight in parts:
         weights[place] = weights.get(place, 0) + weight
