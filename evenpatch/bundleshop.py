@@ -1,7 +1,7 @@
 """The families of a bundle: those of published units, but its own where units of the bundle are called."""
 
 from evenpatch.editions import doors_of
-from evenpatch.rivals import Rivals
+from evenpatch.rivals import rivals_between
 from evenpatch.workshop import Kin, web_with
 
 
@@ -46,7 +46,7 @@ class BundleShop:
         for door in self.doors:
             offers = self.shop.sets_of(door, side, "S")
             counters = Kin(self.web_of(door, side, "T"), door).all_families()
-            found.append((door, Rivals(offers, counters, self.shop.encounters)))
+            found.append((door, rivals_between(offers, counters, self.shop.encounters)))
         return found
 
 

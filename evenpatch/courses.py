@@ -1,5 +1,6 @@
 """Courses: how a body is gone through, from one row to the next."""
 
+from evenpatch.boards import Terrain
 from evenpatch.bodies import bodies_of
 from evenpatch.kinds import is_tuple_of, is_whole, is_within
 from evenpatch.meaning import holds, worth_of
@@ -8,16 +9,20 @@ from evenpatch.meaning import holds, worth_of
 class Ground:
     """What webs of one body have in common whose rows have the same moves: these, and what has been worked out of them.
 
-    `moves` has the moves of rows, `ahead` and `frame_ahead` the rows to which rows lead, `layouts` the boards without
-    owners from places, and `families` what comes from places, for webs with the same owners.
+    `row_moves` has the moves of rows, `numbers` their numbers, `ahead` and `frame_ahead` the rows to which they lead,
+    `terrain` their short moves, `layouts` the boards without owners from places, `families` what comes from places and
+    `lists` what comes from all stores, for webs with the same owners.
     """
 
-    def __init__(self):
-        self.moves = {}
+    def __init__(self, never):
+        self.terrain = Terrain(never)
+        self.row_moves = {}
+        self.numbers = {}
         self.ahead = {}
         self.frame_ahead = {}
         self.layouts = {}
         self.families = {}
+        self.lists = {}
 
 
 class Course:
@@ -39,6 +44,7 @@ class Course:
         self._worths = [space.values_of(store) for store in space.stores()]
         self._grounds = {}
         self._firsts = {}
+        self._ranks = {}
         self.start = self._laid(body, (), None)
         self.calls = sorted(set([statement[1] for statement in self.told if statement[0] == "call"]))
         self.choosers = sorted(set([statement[1] for statement in self.told if statement[0] == "choose"]))
@@ -65,10 +71,10 @@ class Course:
         self.inner[number] = tuple(starts)
         return number
 
-    def ground(self, key):
+    def ground_for(self, key):
         """What all webs of the body with a key have in common; made once."""
         if key not in self._grounds:
-            self._grounds[key] = Ground()
+            self._grounds[key] = Ground(self.never)
         return self._grounds[key]
 
     def way(self, number, store):
@@ -110,6 +116,13 @@ class Course:
     def number_of(self, path):
         """The number of the statement with a path."""
         return self._numbers[path]
+
+    def number_at(self, path, store):
+        """A number for a path and a store; numbers are ordered as tuples of both are."""
+        if path not in self._ranks:
+            for rank, one in enumerate(sorted(self.paths)):
+                self._ranks[one] = rank
+        return self._ranks[path] * self.never + store
 
     def statement_at(self, path):
         """The statement with a path."""

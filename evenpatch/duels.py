@@ -49,9 +49,9 @@ class Duel:
         It is the greatest one over what the other one can do.
         """
         board = self.board
-        values = {row: number for row, number in enumerate(self._all_values())}
+        values = {row: number for row, number in zip(board.sequence, self._all_values())}
         values.update(self._outcomes)
-        taken = {row: moves[:1] for row, moves in enumerate(board.tracks)}
+        taken = {row: moves[:1] for row, moves in board.tracks.items()}
         for row in self._mine:
             taken[row] = [board.tracks[row][self.picks[row]]]
         for row in self._others:
@@ -60,12 +60,12 @@ class Duel:
         while True:
             ranks = self._counted(taken, picks, values)
             if not switched(picks, [row for row in taken if len(taken[row]) > 1], taken, ranks, True):
-                return [ranks[row] for row in range(len(board.rows))]
+                return [ranks[row] for row in board.sequence]
 
     def _counted(self, taken, picks, values):
         """The ranks of the rows if one of the moves that may be taken is picked for each."""
         chain = Chain(self.board.never)
-        for row in reversed(range(len(self.board.rows))):
+        for row in reversed(self.board.sequence):
             move = taken[row][picks[row]]
             whole = sum(list(move.values()))
             parts = {target: weight for target, weight in move.items() if target >= 0}
@@ -74,12 +74,12 @@ class Duel:
             chain.leave_out(row, whole, parts)
         ends = {outcome: Ratio(0) for outcome in self._outcomes}
         ends[COST] = Ratio(1)
-        return chain.worths(list(range(len(self.board.rows))), ends)
+        return chain.worths(self.board.sequence, ends)
 
     def _all_values(self):
         """What each row of the board brings, ascending."""
         found = []
-        for row in range(len(self.board.rows)):
+        for row in self.board.sequence:
             whole, parts = self.board.short_of(row)
             found.append(mean_behind(whole, parts, self.brought))
         return found

@@ -170,7 +170,7 @@ class Search:
 
     def __init__(self, ahead):
         self.found = []
-        self._ahead = ahead
+        self._leads = ahead
         self._order = {}
         self._path = []
         self._roots = []
@@ -184,11 +184,11 @@ class Search:
         self._enter(start)
         while trail:
             row, at = trail.pop()
-            if at == len(self._ahead[row]):
+            if at == len(self._leads[row]):
                 self._leave(row)
             else:
                 trail.append((row, at + 1))
-                target = self._ahead[row][at]
+                target = self._leads[row][at]
                 if target not in self._order:
                     self._enter(target)
                     trail.append((target, 0))

@@ -5,7 +5,7 @@ from evenpatch.checks import with_body
 from evenpatch.kinds import is_row_of, is_tuple_of, is_within
 from evenpatch.prospects import Prospect
 from evenpatch.ratios import as_ratio
-from evenpatch.rivals import Rivals, is_attack, is_harm_part
+from evenpatch.rivals import is_attack, is_harm_part, rivals_between
 from evenpatch.workshop import Workshop
 
 
@@ -64,7 +64,7 @@ def shop_of(system, unit, body, side):
 def rivals_of(shop, unit, body, side):
     """The sets of a published unit and the counters of a new body for it."""
     sets = shop.sets_of(unit, side, "S")
-    return Rivals(sets, shop.sets_for(unit, body, side, "T"), shop.encounters)
+    return rivals_between(sets, shop.sets_for(unit, body, side, "T"), shop.encounters)
 
 
 def prospects_at(shop, unit, body, side, store):

@@ -7,13 +7,14 @@ FEW_PAIRS = 16
 
 
 class Encounters:
-    """What is known of pairs of sets, tuples of lots, each pair asked once."""
+    """What is known of pairs of sets, tuples of lots, each pair asked once; `known` are the last Rivals of them."""
 
     def __init__(self):
+        self.known = []
         self._payoffs = {}
         self._gaps = {}
 
-    def payoff(self, lots, others):
+    def parting_payoff(self, lots, others):
         """The payoff that parts two sets, None if they meet."""
         key = (lots, others)
         if key not in self._payoffs:

@@ -18,13 +18,13 @@ def is_duel_paper(prospect, payoff, sign, value):
     ranks = row_numbers_of(value[3], board)
     if numbers is None or ranks is None or not all([rank.top >= 0 for rank in ranks]):
         return False
-    worths = {row: number * sign for row, number in enumerate(numbers)}
-    counts = {row: rank for row, rank in enumerate(ranks)}
+    worths = {row: number * sign for row, number in zip(board.sequence, numbers)}
+    counts = {row: rank for row, rank in zip(board.sequence, ranks)}
     for outcome, item in enumerate(payoff):
         worths[-1 - outcome] = Ratio(item * sign)
         counts[-1 - outcome] = Ratio(0)
     picks = prospect.picks_of(value[1])
-    for row, moves in enumerate(board.tracks):
+    for row, moves in board.tracks.items():
         taken = [moves[picks[row]]] if row in picks else moves
         for move in taken:
             if not goes_with(row, move, worths, counts, worths[board.never]):

@@ -76,7 +76,7 @@ class Prospect:
         lots = self.lots_by(picks)
         if has_great(lots):
             raise TooGreat(unit, store)
-        return list(self._corners(lots))
+        return list(self._corners_of(lots))
 
     def outcome(self):
         """The tuple of whether there are too many responses, whether some lot has too great an integer, and the family.
@@ -90,6 +90,9 @@ class Prospect:
         return kept[key]
 
     def _worked_out(self):
+        if not self.board.short:
+            lots = self.lots_by({})
+            return False, has_great(lots), [(tuple(lots), ())]
         plans = self.plans()
         if plans is None:
             return True, False, []
@@ -98,12 +101,12 @@ class Prospect:
             return False, True, []
         found = {}
         for picks, lots in lists:
-            corners = self._corners(lots)
+            corners = self._corners_of(lots)
             if corners not in found:
                 found[corners] = self.plan_of(picks)
         return False, False, family_among(list(found.items()))
 
-    def _corners(self, lots):
+    def _corners_of(self, lots):
         """The tuple of the corners of some different lots."""
         if len(lots) == 1:
             return tuple(lots)
@@ -269,8 +272,10 @@ def stepped(parts, row, whole, ahead):
 
 def family_from(web, place, unit, store):
     """The family from a place of a web, a list of tuples (set, plan), ascending; unit and store are for errors."""
+    if isinstance(place, int):
+        return [((tuple([int(at == place) for at in range(web.never + 1)]),), ())]
     kept = web.ground.families
-    key = (web.sort, place)
+    key = (web.camp, place)
     if key not in kept:
         kept[key] = Prospect(web, place).outcome()
     is_long, is_great, family = kept[key]

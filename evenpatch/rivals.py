@@ -8,6 +8,8 @@ from evenpatch.pairs import met, near_places, near_shares
 from evenpatch.ratios import Ratio, as_ratio, is_number
 from evenpatch.rows import is_same_way
 
+MOST_RIVALS = 24
+
 
 class Rivals:
     """The sets of a published body and the counters of a new one, with the plans by which they come."""
@@ -16,6 +18,8 @@ class Rivals:
         self.offers = sets
         self.counters = counters
         self._encounters = encounters
+        self._attacks = []
+        self._harms = []
 
     def pairs(self, store):
         """The list of the tuples ((set, plan), (counter, answer)) of a store."""
@@ -27,12 +31,20 @@ class Rivals:
 
     def attack(self):
         """The tuple (store, plan, payoff, answer) of the first set and counter that do not meet; None if all meet."""
+        if not self._attacks:
+            self._attacks.append(self._first_attack())
+        if self._attacks[0] is None:
+            return None
+        store, plan, payoff, answer = self._attacks[0]
+        return store, plan, list(payoff), answer
+
+    def _first_attack(self):
         for store in range(len(self.offers)):
             if self._like(store) == store:
                 for (lots, plan), (others, answer) in self.pairs(store):
-                    payoff = self._encounters.payoff(lots, others)
+                    payoff = self._encounters.parting_payoff(lots, others)
                     if payoff is not None:
-                        return store, plan, list(payoff), answer
+                        return store, plan, payoff, answer
         return None
 
     def papers(self):
@@ -49,11 +61,11 @@ class Rivals:
 
     def harms(self):
         """For each store the greatest distance of a set and a counter."""
-        found = []
-        for store in range(len(self.offers)):
-            first = self._like(store)
-            found.append(found[first] if first < store else self.farthest(store)[0])
-        return found
+        if not self._harms:
+            for store in range(len(self.offers)):
+                first = self._like(store)
+                self._harms.append(self._harms[first] if first < store else self.farthest(store)[0])
+        return list(self._harms)
 
     def farthest(self, store):
         """The tuple (number, plan, answer, payoff) of a set and a counter with the greatest distance."""
@@ -107,6 +119,16 @@ class Rivals:
                     return False
                 at += 1
         return True
+
+
+def rivals_between(sets, counters, encounters):
+    """The Rivals of sets and counters, those that are known if such ones were asked before."""
+    for other in encounters.known:
+        if other.offers == sets and other.counters == counters:
+            return other
+    found = Rivals(sets, counters, encounters)
+    encounters.known = [*encounters.known, found][-MOST_RIVALS:]
+    return found
 
 
 def is_pair(value, i, j, lots, others, number):

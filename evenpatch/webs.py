@@ -32,7 +32,7 @@ def web(system, unit, side, families, view):
         kept[name] = [[tuple(lots) for lots in family] for family in families[name]]
     if not is_view(view):
         raise InvalidView(view)
-    return Web(Course(space, body_of(system, unit)), side, kept, view, Ground())
+    return Web(Course(space, body_of(system, unit)), side, kept, view, Ground(space.never))
 
 
 class Web:
@@ -47,7 +47,7 @@ class Web:
         self.view = view
         self._course = course
         # Webs with one ground have the same owners if this is the same.
-        self.sort = (view, tuple([party in side for party in course.choosers]))
+        self.camp = (view, tuple([party in side for party in course.choosers]))
         self._families = families
         self.ground = ground
 
@@ -62,6 +62,10 @@ class Web:
         """The place to which the way from the beginning of the body leads."""
         if not is_within(store, 0, self.never - 1):
             raise InvalidStore(store)
+        return self.first_from(store)
+
+    def first_from(self, store):
+        """The place to which the way from the beginning leads from what surely is a store."""
         return self._course.first(store)
 
     def owner(self, row):
@@ -85,12 +89,19 @@ class Web:
     def rows_from(self, place):
         """The ascending list of the rows that can be met from a place."""
         self._need_place(place)
-        return self._bounded(place, False)
+        return self.bounded_rows(place, False)
 
     def frame_rows(self, place):
         """The ascending list of the rows of a frame from a place."""
         self._need_place(place)
-        return self._bounded(place, True)
+        return self.bounded_rows(place, True)
+
+    def number_of(self, row):
+        """The number of what surely is a row; numbers are ordered as rows are."""
+        kept = self.ground.numbers
+        if row not in kept:
+            kept[row] = self._course.number_at(row[0], row[1]) * (MOST_SETS + 1) + (0 if len(row) == 2 else row[2] + 1)
+        return kept[row]
 
     def owner_of(self, row):
         """The owner of what surely is a row."""
@@ -106,7 +117,7 @@ class Web:
 
     def moves_of(self, row):
         """The moves of what surely is a row, as tuples; worked out once."""
-        kept = self.ground.moves
+        kept = self.ground.row_moves
         if row not in kept:
             kept[row] = tuple([gathered(parts) for parts in self._parts_of(row)])
         return kept[row]
@@ -148,8 +159,8 @@ class Web:
         if not is_within(place, 0, self.never) and not self.is_row(place):
             raise InvalidRow(place)
 
-    def _bounded(self, place, is_frame):
-        """The ascending list of the rows from a place, if they are not too many."""
+    def bounded_rows(self, place, is_frame):
+        """The ascending list of the rows from what surely is a place, or of a frame there, if they are not too many."""
         rows = self._met(place, is_frame)
         count = len([row for row in rows if len(row) == 2])
         if count > MOST_ROWS:

@@ -112,7 +112,7 @@ class Workshop:
 def web_with(course, side, view, told):
     """The web of a body; `told` has the numbers and the families of the units that it calls."""
     key = (tuple([party in side for party in course.spinners]), tuple([told[unit][0] for unit in course.calls]))
-    return Web(course, side, {unit: told[unit][1] for unit in course.calls}, view, course.ground(key))
+    return Web(course, side, {unit: told[unit][1] for unit in course.calls}, view, course.ground_for(key))
 
 
 class Kin:
@@ -122,22 +122,24 @@ class Kin:
         self._web = web
         self._unit = unit
 
-    def family(self, store):
-        """The family from a store, a list of tuples (set, plan), ascending."""
-        return family_from(self._web, self._web.first(store), self._unit, store)
-
     def all_families(self):
-        """For each store the family from it."""
-        return [self.family(store) for store in range(self._web.never)]
+        """For each store the family from it, a list of tuples (set, plan), ascending."""
+        kept = self._web.ground.lists
+        if self._web.camp not in kept:
+            kept[self._web.camp] = [self._family(store) for store in range(self._web.never)]
+        return kept[self._web.camp]
 
     def poor(self):
         """For each store the sets of the family from it, if they are not too rich for a unit that is called."""
         found = []
         for store in range(self._web.never):
-            sets = [lots for lots, plan in self.family(store)]
+            sets = [lots for lots, plan in self._family(store)]
             need_poor(sets, self._unit, store, self._web.side)
             found.append(sets)
         return found
+
+    def _family(self, store):
+        return family_from(self._web, self._web.first_from(store), self._unit, store)
 
 
 def need_poor(sets, unit, store, side):

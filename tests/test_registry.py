@@ -1,5 +1,7 @@
 """Tests of evenpatch.registry."""
 
+import ast
+import pathlib
 import random
 import unittest
 
@@ -593,6 +595,58 @@ class Follows(Case):
         coin, low = body_from("draw x 0 by 1 1 by 1"), body_from("set x = 0")
         self.assertEqual([registry.exchange("toss", coin), registry.exchange("toss", low), registry.exchange("toss", coin)], [1, 2, 1])
         self.assertIs(stands_for(with_body(text(TOSS), "toss", coin), "toss", low, (2,)), False)
+
+
+def as_told(value):
+    """A value with tuples for lists, and with Ratios and errors written so that they can be held against lines."""
+    if isinstance(value, PactError):
+        return type(value).__name__, as_told(list(vars(value).values()))
+    if isinstance(value, (list, tuple)):
+        return tuple(as_told(item) for item in value)
+    return str(value) if isinstance(value, Ratio) else value
+
+
+class Many(Case):
+    """Many registries, one after another, answer as they always have."""
+
+    def told(self, call, *args):
+        try:
+            return as_told(call(*args))
+        except PactError as error:
+            return as_told(error)
+
+    def test_a_hundred(self):
+        system = (2, (("x", 6),), (("u", (("set", "x", ("num", 3)),)), ("w", ()), ("game", (("call", "w"),))))
+        ask = ("choose", 1, (("a", ()), ("b", ())))
+        bodies = {"game": (("call", "w"),),
+                  "w": (("if", ("same", ("name", "x"), ("num", 2)), (("call", "u"),) + (ask,) * 4, (("call", "u"),) + (ask,) * 5),)}
+        # With a choice less there are as many rows as there may be.
+        fewer = {**bodies, "w": (("call", "u"), *[ask] * 3)}
+        none = tuple((side, ("0",) * 6) for side in sides(2))
+        for at in range(100):
+            registry = Registry(system, sides(2))
+            self.refused(TooMany, [31], registry.exchange_all, bodies)
+            for unit in ("u", "w", "game"):
+                self.assertEqual([self.told(registry.harms, unit, 0), registry.paper(unit, 0)], [none, None])
+                self.refused(InvalidEdition, [1], registry.harms, unit, 1)
+            if at % 10 == 0:
+                told = self.told(registry.exchange_all, fewer)
+                self.assertEqual(told, ("NotLet", ((), 0, (), (1, 0, 0, 0, 0, 0, 0), ())))
+
+    def test_as_they_always_have(self):
+        """Bodies at the bounds, taken and refused: what `registries.txt` has of what was asked and told."""
+        lines = pathlib.Path(__file__).with_name("registries.txt").read_text().splitlines()
+        self.assertGreater(len(lines), 30)
+        for line in lines:
+            system, promised, asked, told = ast.literal_eval(line)
+            registry = self.told(Registry, system, promised)
+            if not isinstance(registry, Registry):
+                self.assertEqual([registry], told)
+                continue
+            for (name, *args), answer in zip(asked, told):
+                if name == "exchange_at":
+                    args[2] = Ratio(args[2], 4)
+                self.assertEqual(self.told(getattr(registry, name), *args), answer)
 
 
 if __name__ == "__main__":
