@@ -12,22 +12,26 @@ class Terrain:
     """
 
     def __init__(self, never):
+        self.row_by = {}
         self.tracks = {}
         self.short = {}
         self.different = {}
         self._chain = Chain(-1 - never)
 
-    def add(self, web, rows):
-        """Adds the rows that are not known of all rows that can be met from some place, which are ascending."""
-        new = [(row, web.number_of(row)) for row in rows]
-        new = [(row, number) for row, number in new if number not in self.tracks]
-        for row, number in new:
-            self.tracks[number] = [numbered(move, web) for move in web.moves_of(row)]
-        for _, number in reversed(new):
+    def lay_rows(self, web, rows):
+        """Adds the rows that are not known of all rows that can be met from some places, which are ascending."""
+        new = []
+        for row in rows:
+            number = web.number_of(row)
+            if number not in self.tracks:
+                self.row_by[number] = row
+                self.tracks[number] = [numbered(move, web) for move in web.moves_of(row)]
+                new.append(number)
+        for number in reversed(new):
             moves = self.tracks[number]
             if len(moves) == 1:
                 self._chain.leave_out(number, sum(list(moves[0].values())), moves[0])
-        for _, number in new:
+        for number in new:
             if len(self.tracks[number]) > 1:
                 moves = [self.shortened(move) for move in self.tracks[number]]
                 self.short[number] = moves
@@ -38,48 +42,53 @@ class Terrain:
         whole, parts = self._chain.told_by(sum(list(move.values())), move)
         return shortest(whole, parts)
 
+    def met_from(self, parts):
+        """The ascending list of the rows with two or more moves that can be met from some parts, theirs too."""
+        found = [target for target in parts if target >= 0]
+        seen = {row: True for row in found}
+        at = 0
+        while at < len(found):
+            for _, others in self.short[found[at]]:
+                for target in others:
+                    if target >= 0 and target not in seen:
+                        seen[target] = True
+                        found.append(target)
+            at += 1
+        return sorted(found)
+
 
 class Layout:
-    """The rows met from a place, as a terrain has them: `sequence` has their numbers, ascending.
+    """What begins with an entry, a tuple (whole, parts) by rows of a terrain with two or more moves.
 
-    `entry` is the place as a tuple (whole, parts) by rows with two or more moves. What has been worked out is kept
-    here, too: the lots that come by picks of moves, the corners of lots, and the families by the rows of who plans.
+    `met` are the rows with two or more moves that can be met. What has been worked out is kept here: the lots that come
+    by picks of moves, and what comes of all plans, by the rows of who plans.
     """
 
-    def __init__(self, web, place):
-        terrain = web.ground.terrain
-        self.rows = web.bounded_rows(place, False)
-        terrain.add(web, self.rows)
-        self.sequence = [web.number_of(row) for row in self.rows]
-        self.tracks = {number: terrain.tracks[number] for number in self.sequence}
-        self.short = {number: terrain.short[number] for number in self.sequence if number in terrain.short}
+    def __init__(self, terrain, entry):
+        self.entry = entry
+        self.met = terrain.met_from(entry[1])
+        self.short = terrain.short
         self.different = terrain.different
-        self.terrain = terrain
-        self.place = target_of(place, web)
-        self.entry = terrain.shortened({self.place: 1})
+        self.row_by = terrain.row_by
         self.lots = {}
-        self.corners = {}
-        self.families = {}
+        self.outcomes = {}
 
 
 class Board:
-    """The rows met from a place, as a layout has them, with their owners."""
+    """The rows met from a place, ascending, and their numbers in `sequence`."""
 
     def __init__(self, web, place):
         self._web = web
-        layouts = web.ground.layouts
-        if place not in layouts:
-            layouts[place] = Layout(web, place)
-        layout = layouts[place]
-        self.layout = layout
-        self.rows = layout.rows
-        self.sequence = layout.sequence
+        self.rows = web.bounded_rows(place, False)
+        self._terrain = web.ground.terrain
+        self._terrain.lay_rows(web, self.rows)
+        self.sequence = [web.number_of(row) for row in self.rows]
         self.never = -1 - web.never
         self.many = web.never + 1
-        self.tracks = layout.tracks
-        self.place = layout.place
-        self.entry = layout.entry
-        self.short = layout.short
+        self.tracks = {number: self._terrain.tracks[number] for number in self.sequence}
+        self.place = target_of(place, web)
+        self.entry = self._terrain.shortened({self.place: 1})
+        self.short = {at: self._terrain.short[at] for at in self.sequence if at in self._terrain.short}
 
     def is_named(self, value, row):
         """Whether any value is this row."""
@@ -92,7 +101,33 @@ class Board:
 
     def short_of(self, at):
         """The tuple (whole, parts) of a row by rows with two or more moves, and by outcomes."""
-        return self.layout.terrain.shortened({at: 1})
+        return self._terrain.shortened({at: 1})
+
+
+def layout_at(web, place):
+    """The layout that begins at a place of a web; one for all places with equal entries."""
+    ground = web.ground
+    if place not in ground.layouts:
+        add_rows(web, place)
+        entry = ground.terrain.shortened({target_of(place, web): 1})
+        key = tuple(sorted(list(entry[1].items())))
+        if key not in ground.entries:
+            ground.entries[key] = Layout(ground.terrain, entry)
+        ground.layouts[place] = ground.entries[key]
+    return ground.layouts[place]
+
+
+def add_rows(web, place):
+    """Adds all rows that can be met from a place to the terrain, if they are not too many."""
+    ground = web.ground
+    if not ground.is_begun:
+        ground.is_begun = True
+        rows = web.rows_from_all([web.first_from(store) for store in range(web.never)])
+        if web.is_bounded(rows):
+            # So few rows in all are not too many from any place.
+            ground.terrain.lay_rows(web, rows)
+    if isinstance(place, tuple) and web.number_of(place) not in ground.terrain.tracks:
+        ground.terrain.lay_rows(web, web.bounded_rows(place, False))
 
 
 def different_ones(moves):

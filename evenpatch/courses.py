@@ -10,8 +10,9 @@ class Ground:
     """What webs of one body have in common whose rows have the same moves: these, and what has been worked out of them.
 
     `row_moves` has the moves of rows, `numbers` their numbers, `ahead` and `frame_ahead` the rows to which they lead,
-    `terrain` their short moves, `layouts` the boards without owners from places, `families` what comes from places and
-    `lists` what comes from all stores, for webs with the same owners.
+    `terrain` their short moves, `layouts` what begins at places and `entries` the same by what there is ahead of it,
+    `corners` those of lots, `families` what comes from places and `lists` what comes from all stores, for webs with the
+    same owners.
     """
 
     def __init__(self, never):
@@ -20,7 +21,10 @@ class Ground:
         self.numbers = {}
         self.ahead = {}
         self.frame_ahead = {}
+        self.is_begun = False
         self.layouts = {}
+        self.entries = {}
+        self.corners = {}
         self.families = {}
         self.lists = {}
 

@@ -4,6 +4,7 @@ from evenpatch.cones import gap, meeting
 from evenpatch.ratios import Ratio
 
 FEW_PAIRS = 16
+MOST_KEPT = 4000
 
 
 class Encounters:
@@ -18,6 +19,8 @@ class Encounters:
         """The payoff that parts two sets, None if they meet."""
         key = (lots, others)
         if key not in self._payoffs:
+            if len(self._payoffs) >= MOST_KEPT:
+                self._payoffs.clear()
             self._payoffs[key] = met(lots, others)[2]
         return self._payoffs[key]
 
@@ -25,6 +28,8 @@ class Encounters:
         """The tuple (number, payoff) of the distance of two sets."""
         key = (lots, others)
         if key not in self._gaps:
+            if len(self._gaps) >= MOST_KEPT:
+                self._gaps.clear()
             number, _, _, payoff = gap_of(lots, others)
             self._gaps[key] = (number, payoff)
         return self._gaps[key]

@@ -13,7 +13,7 @@ def is_duel_paper(prospect, payoff, sign, value):
     """
     if not is_tuple_of(value, 4) or not is_number(value[0]) or not prospect.is_plan(value[1]):
         return False
-    board = prospect.board
+    board = prospect.full_board()
     numbers = row_numbers_of(value[2], board)
     ranks = row_numbers_of(value[3], board)
     if numbers is None or ranks is None or not all([rank.top >= 0 for rank in ranks]):

@@ -46,14 +46,14 @@ def held(system, unit, store, side, payoff):
 
 def is_forced(system, unit, store, side, payoff, value):
     """Whether any value is a number with a plan, a table and ranks that show that the side forces as much."""
-    board = prospect_for(system, unit, store, side, "S", payoff)
-    return is_duel_paper(board, payoff, 1, value)
+    prospect = prospect_for(system, unit, store, side, "S", payoff)
+    return is_duel_paper(prospect, payoff, 1, value)
 
 
 def is_held(system, unit, store, side, payoff, value):
     """Whether any value is a number with a plan, a table and ranks that show that the side forces no more."""
-    board = prospect_for(system, unit, store, side, "T", payoff)
-    return is_duel_paper(board, payoff, -1, value)
+    prospect = prospect_for(system, unit, store, side, "T", payoff)
+    return is_duel_paper(prospect, payoff, -1, value)
 
 
 def shop_for(system, unit, store, side):
@@ -75,7 +75,7 @@ def prospect_for(system, unit, store, side, view, payoff):
 
 def duel_for(system, unit, store, side, view, payoff):
     """The duel for a payoff from a store, led by the side in the view "S", by its enemy in the view "T"."""
-    board = prospect_for(system, unit, store, side, view, payoff).board
+    board = prospect_for(system, unit, store, side, view, payoff).full_board()
     if view == "S":
         return Duel(board, "A", payoff)
     return Duel(board, "B", [-item for item in payoff])

@@ -1,6 +1,6 @@
 """Prospects: what comes of all plans and all responses from a place of a web."""
 
-from evenpatch.boards import Board
+from evenpatch.boards import Board, layout_at
 from evenpatch.chains import Chain, shortest
 from evenpatch.cones import corners_of, is_mixed
 from evenpatch.errors import TooGreat, TooMany
@@ -17,15 +17,23 @@ class Prospect:
     """
 
     def __init__(self, web, place):
-        self.board = Board(web, place)
-        self.own = self.board.free_rows("A" if web.view == "S" else "B")
+        owner = "A" if web.view == "S" else "B"
+        self.layout = layout_at(web, place)
+        self.many = web.never + 1
+        self.own = [row for row in self.layout.met if web.owner_of(self.layout.row_by[row]) == owner]
         self._is_own = {row: True for row in self.own}
+        self._web = web
+        self._place = place
+
+    def full_board(self):
+        """The board of all rows met from the place."""
+        return Board(self._web, self._place)
 
     def is_plan(self, value):
         """Whether any value is a plan."""
         if not is_tuple_of(value, len(self.own)):
             return False
-        return all([is_within(item, 0, len(self.board.short[row]) - 1) for item, row in zip(value, self.own)])
+        return all([is_within(item, 0, len(self.layout.short[row]) - 1) for item, row in zip(value, self.own)])
 
     def plan_of(self, picks):
         """The plan with these picks, and the first move where it has none."""
@@ -43,7 +51,7 @@ class Prospect:
         """
         found = []
         count = 0
-        waiting = [Walk(self.board.layout, {}, 1).begin()]
+        waiting = [Walk(self.layout, {}, 1).begin()]
         while waiting:
             walk = waiting.pop()
             row = self._next_own(walk)
@@ -53,13 +61,13 @@ class Prospect:
                 if count > MOST_RESPONSES:
                     return None
             else:
-                for index, many in reversed(self.board.layout.different[row]):
+                for index, many in reversed(self.layout.different[row]):
                     waiting.append(walk.branch(row, index, many))
         return found
 
     def need_few(self, picks):
         """Refuses a plan with too many responses."""
-        walk = Walk(self.board.layout, picks, 1).begin()
+        walk = Walk(self.layout, picks, 1).begin()
         self._next_own(walk)
         if self._responses(walk.rows) > MOST_RESPONSES:
             raise TooMany(MOST_RESPONSES + 1)
@@ -83,14 +91,14 @@ class Prospect:
 
         Whoever plans at the same rows has the same one, so it is kept for them.
         """
-        kept = self.board.layout.families
+        kept = self.layout.outcomes
         key = tuple(self.own)
         if key not in kept:
             kept[key] = self._worked_out()
         return kept[key]
 
     def _worked_out(self):
-        if not self.board.short:
+        if not self.layout.met:
             lots = self.lots_by({})
             return False, has_great(lots), [(tuple(lots), ())]
         plans = self.plans()
@@ -110,7 +118,7 @@ class Prospect:
         """The tuple of the corners of some different lots."""
         if len(lots) == 1:
             return tuple(lots)
-        kept = self.board.layout.corners
+        kept = self._web.ground.corners
         key = tuple(sorted(lots))
         if key not in kept:
             kept[key] = tuple(corners_of(lots))
@@ -142,7 +150,7 @@ class Prospect:
         count = 1
         for row in rows:
             if row not in self._is_own:
-                count = count * len(self.board.short[row])
+                count = count * len(self.layout.short[row])
         return count
 
     def _lots_ahead(self, picks):
@@ -151,18 +159,17 @@ class Prospect:
         Of what comes by some picks only the weights of the places count that are come to, so that equal ones, from the
         first row on, are gone on with once.
         """
-        layout = self.board.layout
+        layout = self.layout
         found = {}
         waiting = {}
-        first = laid_among(self.board.entry[1], waiting, found, self.board.many)
-        for row in layout.short:
-            if row not in waiting:
-                continue
+        laid_among(layout.entry[1], waiting, found, self.many)
+        while waiting:
+            row = min(waiting)
             indices = [picks[row]] if row in picks else [index for index, _ in layout.different[row]]
-            for parts in list(waiting[row].values()):
+            for parts in list(waiting.pop(row).values()):
                 for index in indices:
                     whole, ahead = layout.short[row][index]
-                    first = laid_among(stepped(parts, row, whole, ahead), waiting, found, self.board.many)
+                    first = laid_among(stepped(parts, row, whole, ahead), waiting, found, self.many)
                     if first is not None and first <= row:
                         return None
         return list(found)
@@ -170,29 +177,29 @@ class Prospect:
     def _lots_around(self, picks):
         """The lots as `lots_by` has them, response by response."""
         found = {}
-        waiting = [Walk(self.board.layout, picks, 1).begin()]
+        waiting = [Walk(self.layout, picks, 1).begin()]
         while waiting:
             walk = waiting.pop()
             row = self._next_free(walk)
             if row is None:
                 found[self._lot(walk)] = True
             else:
-                for index, _ in self.board.layout.different[row]:
+                for index, _ in self.layout.different[row]:
                     waiting.append(walk.branch(row, index, 1))
         return list(found)
 
     def _lot(self, walk):
         """The lot that comes if each of the rows that are met has a pick."""
-        kept = self.board.layout.lots
+        kept = self.layout.lots
         # The picks of the rows, as they are met, tell which rows these are.
         key = tuple([walk.picks[row] for row in walk.rows])
         if key not in kept:
-            chain = Chain(self.board.never)
+            chain = Chain(-self.many)
             for row in sorted(walk.rows, reverse=True):
-                whole, parts = self.board.short[row][walk.picks[row]]
+                whole, parts = self.layout.short[row][walk.picks[row]]
                 chain.leave_out(row, whole, parts)
-            _, parts = chain.told_by(self.board.entry[0], self.board.entry[1])
-            kept[key] = tuple(shortened([parts.get(-1 - outcome, 0) for outcome in range(self.board.many)]))
+            _, parts = chain.told_by(self.layout.entry[0], self.layout.entry[1])
+            kept[key] = tuple(shortened([parts.get(-1 - outcome, 0) for outcome in range(self.many)]))
         return kept[key]
 
 

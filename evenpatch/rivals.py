@@ -167,7 +167,7 @@ def is_attack(prospect, counter, plan, payoff, answer):
 
 def lead_of(prospect, counter, plan, payoff, answer):
     """The lead for any values as a plan, a payoff and an answer, None unless they are so."""
-    if not prospect.is_plan(plan) or not counter.is_plan(answer) or not is_payoff(payoff, prospect.board.many):
+    if not prospect.is_plan(plan) or not counter.is_plan(answer) or not is_payoff(payoff, prospect.many):
         return None
     lots = prospect.lots_by(prospect.picks_of(plan))
     return lead(lots, counter.lots_by(counter.picks_of(answer)), payoff)

@@ -97,7 +97,7 @@ def is_word(value):
     """Whether any value is a word."""
     if not isinstance(value, str) or not 1 <= len(value) <= LONGEST or value in TAKEN:
         return False
-    return all([sign in LETTERS for sign in value])
+    return value.isascii() and value.isalpha() and value.islower()
 
 
 def is_name_with_size(value):

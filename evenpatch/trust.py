@@ -28,7 +28,7 @@ def trust(system, store, outcomes, number):
     chances = []
     for side in sides(system[0]):
         web = shop.web_of(unit, side, "S")
-        chances.append((side, Duel(Prospect(web, web.first(store)).board, "A", payoff).worth_there()))
+        chances.append((side, Duel(Prospect(web, web.first(store)).full_board(), "A", payoff).worth_there()))
     return [side for side, chance in chances if not chance.below(number)]
 
 

@@ -161,17 +161,26 @@ class Web:
 
     def bounded_rows(self, place, is_frame):
         """The ascending list of the rows from what surely is a place, or of a frame there, if they are not too many."""
-        rows = self._met(place, is_frame)
-        count = len([row for row in rows if len(row) == 2])
-        if count > MOST_ROWS:
-            raise TooMany(count)
+        rows = self._met([place], is_frame)
+        if not self.is_bounded(rows):
+            raise TooMany(len([row for row in rows if len(row) == 2]))
         return rows
 
-    def _met(self, place, is_frame):
-        if isinstance(place, int):
-            return []
-        found = [place]
-        seen = {place: True}
+    def rows_from_all(self, places):
+        """The ascending list of the rows that can be met from what surely are places, however many there are."""
+        return self._met(places, False)
+
+    def is_bounded(self, rows):
+        """Whether of some rows not too many are no set rows."""
+        return len(rows) <= MOST_ROWS or len([row for row in rows if len(row) == 2]) <= MOST_ROWS
+
+    def _met(self, places, is_frame):
+        found = []
+        seen = {}
+        for place in places:
+            if not isinstance(place, int) and place not in seen:
+                seen[place] = True
+                found.append(place)
         at = 0
         while at < len(found):
             for target in self._ahead(found[at], is_frame):

@@ -8,6 +8,7 @@ from evenpatch.spaces import Space
 from evenpatch.webs import MOST_CORNERS, MOST_SETS, Web
 
 MOST_COURSES = 60
+MOST_LISTS = 60
 
 
 class Workshop:
@@ -24,6 +25,7 @@ class Workshop:
         self._kin = {}
         self._called = {}
         self._lists = []
+        self._many_lists = 0
 
     def course_of(self, unit):
         """The course of the body of a unit."""
@@ -60,7 +62,7 @@ class Workshop:
     def families_of(self, unit, side, view):
         """A tuple of a number and, for each store, the sets that a unit brings where it is called, if not too rich.
 
-        Equal families have the same number. What units that it calls bring has been asked for ahead.
+        Only equal families have the same number. What units that it calls bring has been asked for ahead.
         """
         key = (unit, side, view)
         if key not in self._called:
@@ -68,12 +70,13 @@ class Workshop:
         return self._called[key]
 
     def numbered_once(self, families):
-        """The tuple of the number of families, the same one for equal ones, and the families."""
-        for number, other in enumerate(self._lists):
+        """The tuple of the number of families, the same one for equal ones of the last ones, and the families."""
+        for number, other in self._lists:
             if other == families:
                 return number, other
-        self._lists.append(families)
-        return len(self._lists) - 1, families
+        self._many_lists = self._many_lists + 1
+        self._lists = [*self._lists, (self._many_lists, families)][-MOST_LISTS:]
+        return self._many_lists, families
 
     def sets_of(self, unit, side, view):
         """For each store the family of a published unit, however rich, as tuples (set, plan)."""

@@ -15,7 +15,7 @@ USED = set("""len range enumerate zip min max sum abs sorted reversed int str bo
 any all divmod ValueError""".split())
 METHODS = set("""append clear copy count endswith extend find get index insert isalnum isalpha isdigit islower isspace
 isupper items join keys ljust lower lstrip partition pop remove replace reverse rfind rjust rpartition rsplit rstrip
-setdefault split splitlines startswith strip update upper values zfill bit_length""".split())
+setdefault split splitlines startswith strip update upper values zfill bit_length isascii""".split())
 DOUBLE = set("""__init__ __eq__ __str__ __len__ __contains__ __add__ __radd__ __sub__ __rsub__ __mul__ __rmul__
 __neg__""".split())
 BARRED_NODES = (ast.AsyncFunctionDef, ast.Await, ast.Global, ast.GeneratorExp, ast.Div, ast.With,
