@@ -5,6 +5,7 @@ from evenpatch.errors import InvalidLines, InvalidName, InvalidSystem, NothingTo
 from evenpatch.house import House
 from evenpatch.pictures import go_on, picture
 from evenpatch.registry import Registry
+from evenpatch.rows import with_last
 from evenpatch.shelflines import number_of
 from evenpatch.spaces import is_word
 from evenpatch.texts import read_system
@@ -80,7 +81,7 @@ class Desk:
         stood = [(unit, registry.standing(unit)) for unit, _ in changes]
         found = [(unit, registry.take(unit, body)) for unit, body in changes]
         if stood:
-            self._rollouts[name] = [*self._rollouts[name], stood][-MOST_ROLLOUTS:]
+            self._rollouts[name] = with_last(self._rollouts[name], stood, MOST_ROLLOUTS)
         return found
 
     def undo(self, name):

@@ -6,7 +6,7 @@ from evenpatch.lots import blend, is_shares, mean_by
 from evenpatch.nearest import least
 from evenpatch.pairs import met, near_places, near_shares
 from evenpatch.ratios import Ratio, as_ratio, is_number
-from evenpatch.rows import is_same_way
+from evenpatch.rows import is_same_way, with_last
 
 MOST_RIVALS = 24
 
@@ -127,7 +127,7 @@ def rivals_between(sets, counters, encounters):
         if other.offers == sets and other.counters == counters:
             return other
     found = Rivals(sets, counters, encounters)
-    encounters.known = [*encounters.known, found][-MOST_RIVALS:]
+    encounters.known = with_last(encounters.known, found, MOST_RIVALS)
     return found
 
 

@@ -22,6 +22,12 @@ def shortened(items):
     return [item // common for item in items]
 
 
+def with_last(items, item, most):
+    """The items of a list and one more behind them, without the first ones that are more than so many; a new list."""
+    found = [*items, item]
+    return found[max(0, len(found) - most):]
+
+
 def is_same_way(items, others):
     """Whether two lists of integers from 0 on, neither with the sum 0, are to each other as the same shares."""
     whole = sum(items)

@@ -4,6 +4,7 @@ from evenpatch.courses import Course
 from evenpatch.errors import TooRich
 from evenpatch.pairs import Encounters
 from evenpatch.prospects import family_from
+from evenpatch.rows import with_last
 from evenpatch.spaces import Space
 from evenpatch.webs import MOST_CORNERS, MOST_SETS, Web
 
@@ -34,12 +35,15 @@ class Workshop:
         return self._courses[unit]
 
     def course_by(self, body):
-        """The course of any body; those of the last ones are kept."""
+        """The course of any body; those of published ones and of the last other ones are kept."""
+        for unit in self.units:
+            if self.bodies[unit] == body:
+                return self.course_of(unit)
         for other, course in self._others:
             if other == body:
                 return course
         course = Course(self.space, body)
-        self._others = [*self._others, (body, course)][-MOST_COURSES:]
+        self._others = with_last(self._others, (body, course), MOST_COURSES)
         return course
 
     def needed(self, calls):
@@ -75,7 +79,7 @@ class Workshop:
             if other == families:
                 return number, other
         self._many_lists = self._many_lists + 1
-        self._lists = [*self._lists, (self._many_lists, families)][-MOST_LISTS:]
+        self._lists = with_last(self._lists, (self._many_lists, families), MOST_LISTS)
         return self._many_lists, families
 
     def sets_of(self, unit, side, view):
