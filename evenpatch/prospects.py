@@ -49,6 +49,8 @@ class Prospect:
         Of equal moves the first one stands for all of them, so each plan is counted as often as there are others of
         which just the same comes.
         """
+        if not self.own:
+            return [{}] if self._responses(self.layout.met) <= MOST_RESPONSES else None
         found = []
         count = 0
         waiting = [Walk(self.layout, {}, 1).begin()]

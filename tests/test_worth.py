@@ -3,11 +3,12 @@
 import random
 import unittest
 from fractions import Fraction
+from itertools import chain
 
 from brute import quiet
 from frames import fractions_of, plan_count, values_and_ranks
 from helpers import Case, fraction, strange
-from second import any_answer
+from second import any_answer, small_body
 from test_house import net_of, text
 from test_registry import exchange_some, some_registry, tell
 
@@ -78,6 +79,30 @@ def sessions_of(rng, count, most_steps=14, many=None):
             house.step(session, any_answer(rng, asked))
 
 
+def deep_sessions(rng, count):
+    """Sessions with three units that call one another, in loops, too, behind each step."""
+    for _ in range(count):
+        names = (("x", 2),)
+        units = []
+        for word, ahead in (("toss", None), ("mid", "toss"), ("game", "mid")):
+            body = small_body(rng, 2, names, [], 2)
+            if ahead is not None:
+                loop = ("while", ("same", ("name", "x"), ("num", rng.randrange(2))), (("call", ahead), *small_body(rng, 2, names, [], 1)))
+                body = (rng.choice([("call", ahead), loop]), *body)
+            units.append((word, body))
+        system = (2, names, tuple(units))
+        registry = quiet(Registry, system, [rng.choice(sides(2))])
+        if registry is not None:
+            house = House(registry)
+            session = house.begin(rng.randrange(2))
+            for _ in range(10):
+                yield system, house, session
+                asked = house.asks(session)
+                if asked[0] == "over":
+                    break
+                house.step(session, any_answer(rng, asked))
+
+
 class FakeWeb:
     """Rows with any moves, as a web has them."""
 
@@ -135,7 +160,7 @@ class Worth(Case):
         """Worths, tables and ranks of one, two and three frames, with loops and all kinds of payoffs."""
         rng = random.Random(144)
         depths = {1: 0, 2: 0, 3: 0}
-        for at, (system, house, session) in enumerate(sessions_of(rng, 330)):
+        for at, (system, house, session) in enumerate(chain(sessions_of(rng, 300), deep_sessions(rng, 60))):
             side = rng.choice(sides(system[0]))
             payoff = some_payoff(rng, house.registry.space.never + 1, at)
             frames = house.frames(session)
@@ -147,7 +172,7 @@ class Worth(Case):
                     continue
                 depths[min(3, len(frames))] = depths.get(min(3, len(frames)), 0) + 1
                 self.same(house, session, side, payoff, seen, plain, call)
-        self.assertGreater(min(depths.values()), 12)
+        self.assertGreater(min(depths.values()), 60)
 
     def same(self, house, session, side, payoff, seen, plain, call):
         number, papers = call(house, session, side, payoff)
@@ -549,22 +574,20 @@ class Errors(Case):
         """For a body of a bundle the published units come ahead of the bundle's own, whichever body calls them."""
         unit, count = self.rich_for_both(10)
         other, many = self.rich_for_both(11)
-        system = text(f"unit v {{ {unit[9:-3]} }} {unit} unit game {{ call v call u }}")
-        registry = Registry(system, [(1,)])
-        body = text(other)[2][0][1]
-        self.assertEqual(registry.exchange_at("v", body, 1), 1)
-        registry = Registry(system, [(1,)])
-        asked = tell(registry.exchange_all, {"v": body, "game": (("call", "u"), ("call", "v"))})
-        if isinstance(asked[0], tuple):
+        game = "unit game { if x < 0 { call v call u } else { } draw x 0 by 1 1 by 1 }"
+        system = text(f"{other.replace('unit u', 'unit v')} {unit} {game}")
+        bodies = dict(system[2])
+        for names, number, told in [((), 0, ["v", 0, (1, 2), many]), (("v", "game"), 1, ["u", 0, (1, 2), count]),
+                                    (("u", "game"), 1, ["v", 0, (1, 2), many]), (("game",), 1, ["v", 0, (1, 2), many]),
+                                    (("u", "v", "game"), 1, ["v", 0, (1, 2), many])]:
+            registry = Registry(system, [(1,)])
+            if names:
+                registry.exchange_all({name: bodies[name] for name in names})
             house = House(registry)
             house.begin(0)
-            self.refused(TooRich, ["u", 0, (1, 2), count], worth, house, 0, (1, 2), [0, 1, 0])
-        registry = Registry(system, [(1,)])
-        same = text(unit)[2][0][1]
-        self.assertEqual(registry.exchange_all({"v": same, "game": (("call", "v"), ("call", "v"))})[0], ("v", 1))
-        house = House(registry)
-        house.begin(0)
-        self.refused(TooRich, ["v", 0, (1, 2), count], worth, house, 0, (1, 2), [0, 1, 0])
+            self.assertEqual(house.start_of(0)[1], number)
+            self.refused(TooRich, told, worth, house, 0, (1, 2), [0, 1, 0])
+            self.assertIsInstance(held_paper(house, 0, (1, 2), [0, 1, 0])[0], Ratio)
 
     def test_as_called_units(self):
         rng = random.Random(84)
