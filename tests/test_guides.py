@@ -4,7 +4,7 @@ import random
 import unittest
 from fractions import Fraction
 
-from frames import brought_by, mean_behind_of, plan_count, plans_of, taken_by
+from frames import brought_by, fractions_of, mean_behind_of, plan_count, plans_of, taken_by
 from helpers import Case, fraction, strange
 from second import any_answer, small_system
 from test_house import text
@@ -16,9 +16,10 @@ from evenpatch.guides import Guide
 from evenpatch.house import House
 from evenpatch.meets import paper_for
 from evenpatch.parties import sides
+from evenpatch.pictures import go_on, picture
 from evenpatch.ratios import Ratio
 from evenpatch.registry import Registry
-from evenpatch.worth import worth
+from evenpatch.worth import worth, worth_paper
 
 
 def answers_to(asked):
@@ -203,6 +204,31 @@ class Guides(Case):
                 behind.append((mean_behind_of(move, {one: (rank,) for one, rank in counts.items()}), index))
         least = min(rank for rank, _ in behind)
         return next(index for rank, index in behind if rank == least)
+
+    def test_ranks_go_down(self):
+        """A label keeps the worth; where the tuple is above never's, the rank behind it is less by 1, otherwise the same."""
+        rng = random.Random(1461)
+        counted = {0: 0, 1: 0}
+        for at, (_, house, session) in enumerate(sessions_of(rng, 500, 12)):
+            side = rng.choice(house.registry.promised())
+            payoff = some_payoff(rng, house.registry.space.never + 1, at)
+            label = Guide(house, session, side, payoff).label()
+            if label is None:
+                continue
+            other = go_on(picture(house))
+            number, papers = worth_paper(other, session, side, payoff)
+            place = other.frames(session)[-1][2]
+            told, rank = (dict(part)[place] for part in papers[-1])
+            never = (Fraction(payoff[-1]), *[Fraction(0)] * (len(papers) - 1))
+            cost = int(fractions_of(told) > never)
+            other.step(session, label)
+            self.assertEqual(worth(other, session, side, payoff), number)
+            behind = worth_paper(other, session, side, payoff)[1][-1][1]
+            new = other.frames(session)[-1][2]
+            left = 0 if isinstance(new, int) else fraction(dict(behind)[new])
+            self.assertEqual(left, fraction(rank) - cost)
+            counted[cost] += 1
+        self.assertGreater(min(counted.values()), 20)
 
     def test_it_goes_on_with_the_session(self):
         system = text("unit game { choose p1 a { } or b { set x = 1 } choose p1 c { } or d { set x = x + 1 } "
