@@ -8,24 +8,83 @@ from evenpatch.simplex import Tableau, weighed
 def corners_of(lots):
     """The corners of the polygon of some lots, ascending.
 
-    Each lot is either mixed of corners that are known, or parted from them by a payoff; the lot that lies farthest in
-    the direction of this payoff is then a corner, too.
+    Those that lie farthest in the direction of an outcome, or in the opposite one, are corners. Each other lot is
+    either mixed of corners that are known, or parted from them by a payoff; the lot that lies farthest in the direction
+    of this payoff is then a corner, too.
     """
     left = sorted(set(lots))
     if len(left) < 3:
         return left
-    payoff = [0] * len(left[0])
+    used = [at for at in range(len(left[0])) if max([lot[at] for lot in left]) > 0]
+    if len(used) == 3:
+        return sorted(rim_of(left, used))
     found = []
+    for at in used:
+        for sign in (1, -1):
+            corner = outermost(left, at, sign)
+            if corner not in found:
+                found.append(corner)
+        if len(used) == 2:
+            return sorted(found)
+    left = [lot for lot in left if lot not in found]
     while left:
+        payoff = mixing(found, left[-1])[1]
         if payoff is None:
             left.pop()
         else:
             corner = farthest(left, payoff)
             found.append(corner)
             left = [lot for lot in left if lot != corner]
-        if left:
-            payoff = mixing(found, left[-1])[1]
     return sorted(found)
+
+
+def rim_of(lots, used):
+    """The corners of the polygon of different lots that use three outcomes alone, one behind another around it."""
+    places = [[lot[at] for at in used] for lot in lots]
+    first = lots.index(outermost(lots, used[0], 1))
+    found = [first]
+    while True:
+        last = places[found[-1]]
+        best = None
+        for at, place in enumerate(places):
+            if at != found[-1] and (best is None or is_outer(last, places[best], place)):
+                best = at
+        if best == first:
+            return [lots[at] for at in found]
+        found.append(best)
+
+
+def is_outer(last, place, other):
+    """Whether, as seen from a corner, another place lies on the outer side of a place, or behind it in one line."""
+    x, y, z = last
+    side = (x * (place[1] * other[2] - place[2] * other[1]) + y * (place[2] * other[0] - place[0] * other[2])
+            + z * (place[0] * other[1] - place[1] * other[0]))
+    if side != 0:
+        return side < 0
+    return is_longer(last, other, place)
+
+
+def is_longer(last, place, other):
+    """Whether, of two places in one line with a corner and on the same side of it, the first one is farther from it."""
+    whole = sum(last)
+    for at, part in enumerate(last):
+        step = abs(place[at] * whole - part * sum(place))
+        other_step = abs(other[at] * whole - part * sum(other))
+        if step * sum(other) != other_step * sum(place):
+            return step * sum(other) > other_step * sum(place)
+    return False
+
+
+def outermost(lots, at, sign):
+    """The corner that has the greatest share of an outcome, for the sign -1 the least one, and then the greatest ones."""
+    best = lots[0]
+    whole = sum(best)
+    for lot in lots[1:]:
+        other_whole = sum(lot)
+        ahead = (lot[at] * whole - best[at] * other_whole) * sign
+        if ahead > 0 or (ahead == 0 and is_farther(lot, best, [0] * len(lot))):
+            best, whole = lot, other_whole
+    return best
 
 
 def farthest(lots, payoff):
