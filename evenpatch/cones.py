@@ -76,7 +76,7 @@ def is_longer(last, place, other):
 
 
 def outermost(lots, at, sign):
-    """The corner that has the greatest share of an outcome, for the sign -1 the least one, and then the greatest ones."""
+    """The corner with the greatest share of an outcome, for the sign -1 the least one, and then the greatest ones."""
     best = lots[0]
     whole = sum(best)
     for lot in lots[1:]:
