@@ -122,7 +122,7 @@ def add_rows(web, place):
     ground = web.ground
     if not ground.is_begun:
         ground.is_begun = True
-        rows = web.rows_from_all([web.first_from(store) for store in range(web.never)])
+        rows = web.rows_from_all(False)
         if web.is_bounded(rows):
             # So few rows in all are not too many from any place.
             ground.terrain.lay_rows(web, rows)

@@ -243,5 +243,7 @@ def need_cheap(harms, price):
 
 def need_frames(web):
     """Refuses a body with too many rows of a frame from some store."""
-    for store in range(web.never):
-        web.frame_rows(web.first(store))
+    # So few rows in all are not too many from any store.
+    if not web.is_bounded(web.rows_from_all(True)):
+        for store in range(web.never):
+            web.frame_rows(web.first(store))

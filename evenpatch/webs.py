@@ -166,9 +166,9 @@ class Web:
             raise TooMany(len([row for row in rows if len(row) == 2]))
         return rows
 
-    def rows_from_all(self, places):
-        """The ascending list of the rows that can be met from what surely are places, however many there are."""
-        return self._met(places, False)
+    def rows_from_all(self, is_frame):
+        """The ascending list of the rows from all stores, or of frames there, however many there are."""
+        return self._met([self.first_from(store) for store in range(self.never)], is_frame)
 
     def is_bounded(self, rows):
         """Whether of some rows not too many are no set rows."""
