@@ -7,7 +7,7 @@ from evenpatch.kinds import is_row_of, is_within
 from evenpatch.machine import Session
 from evenpatch.pairs import Encounters
 from evenpatch.prospects import family_from
-from evenpatch.ratios import Ratio, as_ratio, is_number
+from evenpatch.ratios import as_ratio, is_number
 from evenpatch.rivals import Rivals
 
 MOST_SESSIONS = 20

@@ -16,7 +16,7 @@ class Ladder:
         self._frames = frames
         self.fields = []
         self._ends = ends
-        for unit, number, place in frames:
+        for unit, number, _ in frames:
             if self.fields:
                 self._ends = self.fields[-1].handed_up(frames[len(self.fields) - 1][2])
             self.fields.append(book.field(unit, number, side, view, self._ends))

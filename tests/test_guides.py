@@ -17,7 +17,6 @@ from evenpatch.house import House
 from evenpatch.meets import paper_for
 from evenpatch.parties import sides
 from evenpatch.pictures import go_on, picture
-from evenpatch.ratios import Ratio
 from evenpatch.registry import Registry
 from evenpatch.worth import worth, worth_paper
 

@@ -4,7 +4,7 @@ import random
 import unittest
 from fractions import Fraction
 
-from free import all_of, free_system
+from free import all_of
 from helpers import Case, fraction, strange
 from second import Small, small_system
 from test_registry import tell, text

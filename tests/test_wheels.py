@@ -2,15 +2,13 @@
 
 import random
 import unittest
-from fractions import Fraction
 
 from helpers import Case, fraction, mean_of, mixture, shares_of, strange
 from second import small_system
 from test_registry import tell, text
 
 from evenpatch.checks import space_of, unit_names
-from evenpatch.errors import (Apart, InvalidPromised, InvalidStore, InvalidSystem, InvalidUnit, NotFair, PactError,
-                              TooMany)
+from evenpatch.errors import InvalidPromised, InvalidStore, InvalidSystem, InvalidUnit, NotFair, PactError, TooMany
 from evenpatch.lots import is_lot
 from evenpatch.nearest import common
 from evenpatch.parties import sides
