@@ -18,7 +18,7 @@ from evenpatch.fields import Field
 from evenpatch.house import House
 from evenpatch.packs import moved_by, numbers_of, pack_of
 from evenpatch.parties import sides
-from evenpatch.plans import families
+from evenpatch.plans import families, value
 from evenpatch.ratios import Ratio
 from evenpatch.registry import Registry
 from evenpatch.worth import held_paper, is_held_paper, is_worth_paper, worth, worth_paper
@@ -211,6 +211,23 @@ class Worth(Case):
                         told.clear()
                     self.assertTrue(is_worth_paper(house, session, side, payoff, again))
                     self.assertEqual(repr_of(worth_paper(house, session, side, payoff)), repr_of(again))
+
+    def test_at_the_beginning_it_is_the_value(self):
+        """A session that begins in published editions is worth what each side forces; errors are the same, too."""
+        rng = random.Random(145)
+        counted = 0
+        for _ in range(250):
+            system, registry = some_registry(rng)
+            house = House(registry)
+            store = rng.randrange(registry.space.never)
+            session = house.begin(store)
+            payoff = some_payoff(rng, registry.space.never + 1, counted)
+            for side in sides(system[0]):
+                want = tell(value, system, registry.last_unit(), store, side, payoff)
+                got = tell(worth, house, session, side, payoff)
+                counted += isinstance(got, Ratio)
+                self.assertEqual(got, want)
+        self.assertGreater(counted, 800)
 
     def test_promised_sides_have_no_errors(self):
         rng = random.Random(124)
