@@ -5,6 +5,8 @@ from evenpatch.bodies import bodies_of
 from evenpatch.kinds import is_tuple_of, is_whole, is_within
 from evenpatch.meaning import holds, worth_of
 
+MOST_GROUNDS = 64
+
 
 class Ground:
     """What webs of one body have in common whose rows have the same moves: these, and what has been worked out of them.
@@ -76,8 +78,10 @@ class Course:
         return number
 
     def ground_for(self, key):
-        """What all webs of the body with a key have in common; made once."""
+        """What all webs of the body with a key have in common; made once, as long as there are not many of them."""
         if key not in self._grounds:
+            if len(self._grounds) >= MOST_GROUNDS:
+                self._grounds.clear()
             self._grounds[key] = Ground(self.never)
         return self._grounds[key]
 
