@@ -48,7 +48,8 @@ class Terrain:
         seen = {row: True for row in found}
         at = 0
         while at < len(found):
-            for _, others in self.short[found[at]]:
+            moves = self.short[found[at]]
+            for _, others in moves:
                 for target in others:
                     if target >= 0 and target not in seen:
                         seen[target] = True

@@ -79,7 +79,9 @@ class Desk:
         for unit, body in changes:
             registry.need_let(unit, body)
         stood = [(unit, registry.standing(unit)) for unit, _ in changes]
-        found = [(unit, registry.take(unit, body)) for unit, body in changes]
+        found = []
+        for unit, body in changes:
+            found.append((unit, registry.take(unit, body)))
         if stood:
             self._rollouts[name] = with_last(self._rollouts[name], stood, MOST_ROLLOUTS)
         return found

@@ -64,7 +64,10 @@ def is_relived(house, session, lines):
     house.begin(store, purses)
     if f"call {unit} {house.start_of(session)[1]}" != lines[1]:
         return False
-    return all([is_done(house, session, line) for line in lines[2:]])
+    for line in lines[2:]:
+        if not is_done(house, session, line):
+            return False
+    return True
 
 
 def is_done(house, session, line):

@@ -168,7 +168,8 @@ class Prospect:
         while waiting:
             row = min(waiting)
             indices = [picks[row]] if row in picks else [index for index, _ in layout.different[row]]
-            for parts in list(waiting.pop(row).values()):
+            group = waiting.pop(row)
+            for parts in list(group.values()):
                 for index in indices:
                     whole, ahead = layout.short[row][index]
                     first = laid_among(stepped(parts, row, whole, ahead), waiting, found, self.many)
@@ -242,7 +243,8 @@ class Walk:
 
     def meet_all(self):
         """Goes on by all moves of this row."""
-        for _, parts in self._layout.short[self.rows[self.at]]:
+        moves = self._layout.short[self.rows[self.at]]
+        for _, parts in moves:
             self._add(parts)
         self.at = self.at + 1
 

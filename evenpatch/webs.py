@@ -183,7 +183,8 @@ class Web:
                 found.append(place)
         at = 0
         while at < len(found):
-            for target in self._ahead(found[at], is_frame):
+            ahead = self._ahead(found[at], is_frame)
+            for target in ahead:
                 if target not in seen:
                     seen[target] = True
                     found.append(target)
